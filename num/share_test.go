@@ -114,7 +114,7 @@ func TestP1_3Wrong(t *testing.T) {
 	}
 }
 
-func TestShareMemory(t *testing.T) {
+func TestP1_3Memory(t *testing.T) {
 	room := []uint64{3, 0, 3, 1, 77, 78}
 	l, _ := num.Share(10, room[:4])
 	again, _ := num.Share(10, room[:4])
