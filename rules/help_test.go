@@ -8,24 +8,10 @@ import (
 
 	"bourse/api"
 	"bourse/rules"
+	. "bourse/sample"
 )
 
 // The tests hold every answer against a model that keeps all orders in one heap, each with the time at which it was enqueued, and sorts them whenever it is asked.
-
-// mixer makes the same numbers in every run.
-type mixer uint64
-
-func (x *mixer) next() uint64 {
-	*x += 0x9e3779b97f4a7c15
-	n := uint64(*x)
-	n = (n ^ n>>30) * 0xbf58476d1ce4e5b9
-	n = (n ^ n>>27) * 0x94d049bb133111eb
-	return n ^ n>>31
-}
-
-func (x *mixer) below(n int) int { return int(x.next() % uint64(n)) }
-
-func pick[T any](x *mixer, l ...T) T { return l[x.below(len(l))] }
 
 // waiting is an order of the heap.
 type waiting struct {
@@ -447,130 +433,19 @@ func looked(t *testing.T, b *rules.Book, want *model) {
 // long is how many commands each of the long runs does.
 const long = 4000
 
-// Commands.
-
-func order(id uint64, side, kind, price int, qty uint64) api.Command {
-	return api.Command{Kind: api.New, ID: id, Side: side, Type: kind, Price: price, Qty: qty}
-}
-
-func buy(id uint64, price int, qty uint64) api.Command {
-	return order(id, api.Buy, api.Limit, price, qty)
-}
-
-func sell(id uint64, price int, qty uint64) api.Command {
-	return order(id, api.Sell, api.Limit, price, qty)
-}
-
-func cancel(target uint64) api.Command { return api.Command{Kind: api.Cancel, Target: target} }
-
-func replace(target, id uint64, price int, qty uint64) api.Command {
-	return api.Command{Kind: api.Replace, Target: target, ID: id, Price: price, Qty: qty}
-}
-
-func peaked(c api.Command, peak uint64) api.Command {
-	c.Peak = peak
-	return c
-}
-
-func by(c api.Command, member uint32) api.Command {
-	c.Member = member
-	return c
-}
-
-// wild is a command of whatever fields, most of them such as can be.
-func wild(x *mixer, high uint64, prices int) api.Command {
-	odd := []uint64{0, 1, 255, 256, 257, math.MaxUint32, math.MaxUint32 + 1, 1 << 56, math.MaxInt64, math.MaxUint64 - 1, math.MaxUint64}
-	wrong := []int{math.MinInt, math.MinInt32, -1, 0, 3, 4, 5, 6, 7, api.Ticks - 1, api.Ticks, math.MaxInt32, math.MaxInt}
-	c := likely(x, high, prices)
-	for range 2 {
-		switch x.below(24) {
-		case 0:
-			c.Kind = pick(x, wrong...)
-		case 1:
-			c.ID = pick(x, odd...)
-		case 2:
-			c.Target = pick(x, odd...)
-		case 3:
-			c.Side = pick(x, wrong...)
-		case 4:
-			c.Type = pick(x, wrong...)
-		case 5:
-			c.Price = pick(x, wrong...)
-		case 6:
-			c.Qty = pick(x, odd...)
-		case 7:
-			c.Peak = pick(x, odd...)
-		case 8:
-			c.Member = pick[uint32](x, 0, math.MaxUint32)
-		}
-	}
-	return c
-}
-
-// likely is a command that a book of these prices may well take.
-func likely(x *mixer, high uint64, prices int) api.Command {
-	c := api.Command{Kind: pick(x, 1, 1, 1, 1, 1, 2, 3), ID: high + uint64(x.below(3)), Target: uint64(x.below(int(min(high, 1000)) + 2)), Member: uint32(x.below(4)), Price: x.below(prices), Qty: uint64(1 + x.below(12))}
-	if high > 12 && x.below(3) > 0 {
-		c.Target = high - uint64(x.below(12))
-	}
-	c.Side = pick(x, api.Buy, api.Sell)
-	c.Type = pick(x, 1, 1, 1, 1, 2, 3, 4, 4, 5, 5)
-	if c.Kind == api.New && c.Type == api.Market {
-		c.Price = 0
-	}
-	if (c.Type == api.Limit || c.Type == api.PostOnly) && x.below(3) == 0 {
-		c.Peak = 1 + x.next()%c.Qty
-		c.Qty += uint64(x.below(20))
-	}
-	return c
-}
-
-// Events.
-
-func acked(c api.Command) api.Event {
-	return api.Event{Kind: api.EvAck, ID: c.ID, Member: c.Member, Side: c.Side, Type: c.Type, Price: c.Price, Qty: c.Qty, Peak: c.Peak}
-}
-
-func rejected(id, target uint64, why api.Errno) api.Event {
-	return api.Event{Kind: api.EvReject, ID: id, Target: target, Code: why}
-}
-
-func traded(id, other uint64, side, price int, qty uint64) api.Event {
-	return api.Event{Kind: api.EvTrade, ID: id, Other: other, Side: side, Price: price, Qty: qty}
-}
-
-func ended(id, qty uint64, reason int) api.Event {
-	return api.Event{Kind: api.EvCancel, ID: id, Qty: qty, Reason: reason}
-}
-
-func refreshed(id uint64, price int, qty uint64) api.Event {
-	return api.Event{Kind: api.EvRefresh, ID: id, Price: price, Qty: qty}
-}
-
 // tells does a command that must tell these events, numbered from the book's Seq on.
 func tells(t *testing.T, b *rules.Book, c api.Command, want ...api.Event) {
 	t.Helper()
 	seq := b.Book().Seq
-	for i := range want {
-		seq++
-		want[i].Seq = seq
-	}
-	sameList(t, "Do", b.Do(c), want)
-	same(t, "Seq", b.Book().Seq, seq)
+	sameList(t, "Do", b.Do(c), Numbered(seq, want...))
+	same(t, "Seq", b.Book().Seq, seq+uint64(len(want)))
 }
 
 // refuses does a command that must be refused, and change nothing but Seq.
 func refuses(t *testing.T, b *rules.Book, c api.Command, why api.Errno) {
 	t.Helper()
-	id, target := c.ID, c.Target
-	switch c.Kind {
-	case api.New:
-		target = 0
-	case api.Cancel:
-		id = 0
-	}
 	x := b.Book()
 	x.Seq++
-	tells(t, b, c, rejected(id, target, why))
+	tells(t, b, c, Rejected(c, why))
 	sameBook(t, "Book behind a refusal", b.Book(), x)
 }

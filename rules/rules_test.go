@@ -7,6 +7,7 @@ import (
 
 	"bourse/api"
 	"bourse/rules"
+	. "bourse/sample"
 )
 
 func TestP9_1ConfigsThatCantBe(t *testing.T) {
@@ -104,28 +105,28 @@ func TestP9_1Valid(t *testing.T) {
 
 func TestP9_1ValidOfManyBooks(t *testing.T) {
 	const most = 1<<32 - 1
-	mix := mixer(91)
+	mix := Mixer(91)
 	some := func(high uint64) api.Resting {
-		r := api.Resting{ID: uint64(mix.below(int(high))) + 1, Type: pick(&mix, 1, 1, 1, 5), Price: mix.below(4), Visible: 1}
-		if mix.below(3) == 0 {
-			r.Peak = pick[uint64](&mix, 1, 2, 100, most)
-			r.Visible = pick(&mix, 1, 2, r.Peak)
-			r.Hidden = pick(&mix, 0, 1, 256*r.Peak-r.Visible, most-r.Visible)
+		r := api.Resting{ID: uint64(mix.Below(int(high))) + 1, Type: Pick(&mix, 1, 1, 1, 5), Price: mix.Below(4), Visible: 1}
+		if mix.Below(3) == 0 {
+			r.Peak = Pick[uint64](&mix, 1, 2, 100, most)
+			r.Visible = Pick(&mix, 1, 2, r.Peak)
+			r.Hidden = Pick(&mix, 0, 1, 256*r.Peak-r.Visible, most-r.Visible)
 		}
-		if mix.below(40) == 0 {
-			r.Hidden = mix.next()
+		if mix.Below(40) == 0 {
+			r.Hidden = mix.Next()
 		}
 		return r
 	}
 	can := 0
 	for range 60000 {
-		b := api.Book{Config: api.Config{Capacity: 1 + mix.below(6), Meet: mix.below(4)}, High: uint64(8 + mix.below(30))}
-		for range mix.below(3) {
+		b := api.Book{Config: api.Config{Capacity: 1 + mix.Below(6), Meet: mix.Below(4)}, High: uint64(8 + mix.Below(30))}
+		for range mix.Below(3) {
 			b.Buys = append(b.Buys, some(b.High))
 		}
-		for range mix.below(3) {
+		for range mix.Below(3) {
 			r := some(b.High)
-			r.Price += mix.below(4)
+			r.Price += mix.Below(4)
 			b.Sells = append(b.Sells, r)
 		}
 		want := wantedValid(b)
@@ -140,7 +141,7 @@ func TestP9_1ValidOfManyBooks(t *testing.T) {
 }
 
 func TestP9_1Load(t *testing.T) {
-	b := of(t, buy(1, 3, 2), sell(2, 5, 1))
+	b := of(t, Buy(1, 3, 2), Sell(2, 5, 1))
 	x := fair()
 	same(t, "Load", b.Load(x), api.OK)
 	looked(t, b, modelOf(x))
@@ -152,7 +153,7 @@ func TestP9_1Load(t *testing.T) {
 	looked(t, b, &model{config: fair().Config})
 	same(t, "Load of what can't be", b.Load(x), api.ErrBook)
 	looked(t, b, &model{config: fair().Config})
-	tells(t, b, buy(1, 10, 1), acked(buy(1, 10, 1)))
+	tells(t, b, Buy(1, 10, 1), Acked(Buy(1, 10, 1)))
 	same(t, "Load of an empty book", b.Load(api.Book{Config: api.Config{Capacity: 1}}), api.OK)
 	looked(t, b, &model{config: api.Config{Capacity: 1}})
 }
@@ -180,10 +181,10 @@ func TestP9_1NothingIsShared(t *testing.T) {
 		levels[:cap(levels)][i] = api.Level{Price: 77}
 	}
 	looked(t, b, modelOf(fair()))
-	events := b.Do(sell(10, 10, 20))
+	events := b.Do(Sell(10, 10, 20))
 	kept := slices.Clone(events)
 	book := b.Book()
-	b.Do(buy(11, 12, 20))
+	b.Do(Buy(11, 12, 20))
 	sameList(t, "events of before", events, kept)
 	same(t, "Load", b.Load(book), api.OK)
 	for i := range events[:cap(events)] {
@@ -194,17 +195,17 @@ func TestP9_1NothingIsShared(t *testing.T) {
 
 func TestP9_1TwoBooksKnowNothingOfOneAnother(t *testing.T) {
 	a, b := loaded(t, fair()), loaded(t, fair())
-	a.Do(cancel(3))
-	a.Do(sell(10, 10, 1))
+	a.Do(Cancel(3))
+	a.Do(Sell(10, 10, 1))
 	looked(t, b, modelOf(fair()))
 }
 
 func TestP9_1BookThatNewDidNotMake(t *testing.T) {
 	// What it answers is open, but no call may panic.
 	var b rules.Book
-	mix := mixer(90)
+	mix := Mixer(90)
 	for range 500 {
-		b.Do(wild(&mix, 5, 5))
+		b.Do(Wild(&mix, 5, 5))
 	}
 	b.Book()
 	b.Best(1)
@@ -244,8 +245,8 @@ func TestP9_2Check(t *testing.T) {
 		{with(func(c *api.Command) { c.Price = api.Ticks - 1 }), api.OK},
 		{with(func(c *api.Command) { c.Price = api.Ticks }), api.ErrPrice},
 		{with(func(c *api.Command) { c.Price = api.Ticks; c.Qty = 0 }), api.ErrPrice},
-		{order(1, api.Sell, api.Market, 0, 1), api.OK},
-		{order(1, api.Sell, api.Market, 1, 1), api.ErrPrice},
+		{Order(1, api.Sell, api.Market, 0, 1), api.OK},
+		{Order(1, api.Sell, api.Market, 1, 1), api.ErrPrice},
 		{with(func(c *api.Command) { c.Qty = 0 }), api.ErrQty},
 		{with(func(c *api.Command) { c.Qty = 0; c.Peak = 0 }), api.ErrQty},
 		{with(func(c *api.Command) { c.Qty = most; c.Peak = 0 }), api.OK},
@@ -268,14 +269,14 @@ func TestP9_2Check(t *testing.T) {
 		// Of Cancel nothing is looked at; of Replace neither Side nor Type.
 		{api.Command{Kind: api.Cancel}, api.OK},
 		{api.Command{Kind: api.Cancel, Side: -1, Type: 9, Price: -1, Qty: math.MaxUint64, Peak: 9}, api.OK},
-		{replace(0, 1, 5, 10), api.OK},
+		{Replace(0, 1, 5, 10), api.OK},
 		{api.Command{Kind: api.Replace, ID: 1, Side: -1, Type: api.Market, Price: 5, Qty: 10, Peak: 2}, api.OK},
-		{replace(0, 1, -1, 10), api.ErrPrice},
-		{replace(0, 1, api.Ticks, 0), api.ErrPrice},
-		{replace(0, 1, 5, 0), api.ErrQty},
-		{peaked(replace(0, 0, 5, 1), 2), api.ErrPeak},
-		{peaked(replace(0, 1, 5, 257), 1), api.ErrPeak},
-		{replace(0, 0, 5, 10), api.ErrID},
+		{Replace(0, 1, -1, 10), api.ErrPrice},
+		{Replace(0, 1, api.Ticks, 0), api.ErrPrice},
+		{Replace(0, 1, 5, 0), api.ErrQty},
+		{Peaked(Replace(0, 0, 5, 1), 2), api.ErrPeak},
+		{Peaked(Replace(0, 1, 5, 257), 1), api.ErrPeak},
+		{Replace(0, 0, 5, 10), api.ErrID},
 	} {
 		if got := rules.Check(x.c); got != x.want || wantedCheck(x.c) != x.want {
 			t.Errorf("%d %+v: got %v, wanted %v (the model: %v)", i, x.c, got, x.want, wantedCheck(x.c))
@@ -284,10 +285,10 @@ func TestP9_2Check(t *testing.T) {
 }
 
 func TestP9_2CheckOfManyCommands(t *testing.T) {
-	mix := mixer(92)
+	mix := Mixer(92)
 	seen := map[api.Errno]int{}
 	for range 300000 {
-		c := wild(&mix, 9, 9)
+		c := Wild(&mix, 9, 9)
 		want := wantedCheck(c)
 		seen[want]++
 		same(t, "Check", rules.Check(c), want)
@@ -300,81 +301,81 @@ func TestP9_2CheckOfManyCommands(t *testing.T) {
 }
 
 func TestP9_2TheFirstRefusal(t *testing.T) {
-	b := of(t, buy(1, 5, 1), buy(2, 5, 1), sell(5, 9, 1), order(6, api.Sell, api.PostOnly, 9, 1))
+	b := of(t, Buy(1, 5, 1), Buy(2, 5, 1), Sell(5, 9, 1), Order(6, api.Sell, api.PostOnly, 9, 1))
 	// The book is full, and 6 is the greatest ID.
 	refuses(t, b, api.Command{Kind: 7, ID: 1, Target: 99}, api.ErrKind)
 	refuses(t, b, api.Command{ID: 8, Target: 1}, api.ErrKind)
-	refuses(t, b, cancel(99), api.ErrTarget)
-	refuses(t, b, cancel(0), api.ErrTarget)
-	refuses(t, b, cancel(math.MaxUint64), api.ErrTarget)
+	refuses(t, b, Cancel(99), api.ErrTarget)
+	refuses(t, b, Cancel(0), api.ErrTarget)
+	refuses(t, b, Cancel(math.MaxUint64), api.ErrTarget)
 	refuses(t, b, api.Command{Kind: api.Cancel, ID: 8, Target: 3}, api.ErrTarget)
-	refuses(t, b, replace(99, 0, -1, 0), api.ErrTarget)
-	refuses(t, b, replace(1, 0, -1, 0), api.ErrPrice)
-	refuses(t, b, replace(1, 0, 5, 0), api.ErrQty)
-	refuses(t, b, peaked(replace(1, 0, 5, 1), 2), api.ErrPeak)
-	refuses(t, b, replace(1, 0, 5, 1), api.ErrID)
-	refuses(t, b, replace(1, 6, 5, 1), api.ErrID)
-	refuses(t, b, replace(6, 6, 5, 1), api.ErrID)
-	refuses(t, b, replace(6, 7, 5, 1), api.ErrCross)
+	refuses(t, b, Replace(99, 0, -1, 0), api.ErrTarget)
+	refuses(t, b, Replace(1, 0, -1, 0), api.ErrPrice)
+	refuses(t, b, Replace(1, 0, 5, 0), api.ErrQty)
+	refuses(t, b, Peaked(Replace(1, 0, 5, 1), 2), api.ErrPeak)
+	refuses(t, b, Replace(1, 0, 5, 1), api.ErrID)
+	refuses(t, b, Replace(1, 6, 5, 1), api.ErrID)
+	refuses(t, b, Replace(6, 6, 5, 1), api.ErrID)
+	refuses(t, b, Replace(6, 7, 5, 1), api.ErrCross)
 	refuses(t, b, api.Command{Kind: api.New, Target: 1}, api.ErrSide)
-	refuses(t, b, order(0, api.Buy, 9, -1, 0), api.ErrType)
-	refuses(t, b, order(0, api.Buy, api.Limit, -1, 0), api.ErrPrice)
-	refuses(t, b, order(0, api.Buy, api.Limit, 1, 0), api.ErrQty)
-	refuses(t, b, peaked(order(0, api.Buy, api.IOC, 1, 1), 1), api.ErrPeak)
-	refuses(t, b, buy(0, 1, 1), api.ErrID)
-	refuses(t, b, buy(6, 1, 1), api.ErrID)
-	refuses(t, b, buy(7, 1, 1), api.ErrFull)
-	refuses(t, b, order(7, api.Buy, api.PostOnly, 9, 1), api.ErrFull)
-	b.Do(cancel(2))
-	refuses(t, b, order(7, api.Buy, api.PostOnly, 9, 1), api.ErrCross)
-	refuses(t, b, order(7, api.Sell, api.PostOnly, 5, 1), api.ErrCross)
+	refuses(t, b, Order(0, api.Buy, 9, -1, 0), api.ErrType)
+	refuses(t, b, Order(0, api.Buy, api.Limit, -1, 0), api.ErrPrice)
+	refuses(t, b, Order(0, api.Buy, api.Limit, 1, 0), api.ErrQty)
+	refuses(t, b, Peaked(Order(0, api.Buy, api.IOC, 1, 1), 1), api.ErrPeak)
+	refuses(t, b, Buy(0, 1, 1), api.ErrID)
+	refuses(t, b, Buy(6, 1, 1), api.ErrID)
+	refuses(t, b, Buy(7, 1, 1), api.ErrFull)
+	refuses(t, b, Order(7, api.Buy, api.PostOnly, 9, 1), api.ErrFull)
+	b.Do(Cancel(2))
+	refuses(t, b, Order(7, api.Buy, api.PostOnly, 9, 1), api.ErrCross)
+	refuses(t, b, Order(7, api.Sell, api.PostOnly, 5, 1), api.ErrCross)
 }
 
 func TestP9_2Cross(t *testing.T) {
-	sides := of(t, buy(1, 5, 1), sell(2, 7, 1))
+	sides := of(t, Buy(1, 5, 1), Sell(2, 7, 1))
 	for _, x := range []struct {
 		side, price int
 		cross       bool
 	}{{api.Buy, 6, false}, {api.Buy, 7, true}, {api.Buy, 8, true}, {api.Sell, 6, false}, {api.Sell, 5, true}, {api.Sell, 4, true}} {
 		b := loaded(t, sides.Book())
-		c := order(3, x.side, api.PostOnly, x.price, 1)
+		c := Order(3, x.side, api.PostOnly, x.price, 1)
 		if x.cross {
 			refuses(t, b, c, api.ErrCross)
 		} else {
-			tells(t, b, c, acked(c))
+			tells(t, b, c, Acked(c))
 		}
 	}
 	// Whose the other order is does not matter.
 	b := made(t, api.Config{Capacity: 4, Meet: api.MeetOldest})
-	b.Do(by(sell(1, 7, 1), 3))
-	refuses(t, b, by(order(2, api.Buy, api.PostOnly, 7, 1), 3), api.ErrCross)
+	b.Do(By(Sell(1, 7, 1), 3))
+	refuses(t, b, By(Order(2, api.Buy, api.PostOnly, 7, 1), 3), api.ErrCross)
 	// A Replace is of the order's own side and type: a Limit may cross.
-	b = of(t, order(1, api.Buy, api.PostOnly, 5, 1), buy(2, 5, 1), sell(3, 7, 1))
-	refuses(t, b, replace(1, 4, 7, 1), api.ErrCross)
-	tells(t, b, replace(1, 4, 6, 1), ended(1, 1, api.ByReplace), acked(order(4, api.Buy, api.PostOnly, 6, 1)))
-	tells(t, b, replace(2, 5, 7, 1), ended(2, 1, api.ByReplace), acked(buy(5, 7, 1)), traded(5, 3, api.Buy, 7, 1))
+	b = of(t, Order(1, api.Buy, api.PostOnly, 5, 1), Buy(2, 5, 1), Sell(3, 7, 1))
+	refuses(t, b, Replace(1, 4, 7, 1), api.ErrCross)
+	tells(t, b, Replace(1, 4, 6, 1), Ended(1, 1, api.ByReplace), Acked(Order(4, api.Buy, api.PostOnly, 6, 1)))
+	tells(t, b, Replace(2, 5, 7, 1), Ended(2, 1, api.ByReplace), Acked(Buy(5, 7, 1)), Traded(5, 3, api.Buy, 7, 1))
 }
 
 func TestP9_2Full(t *testing.T) {
 	b := made(t, api.Config{Capacity: 2})
-	b.Do(buy(1, 5, 1))
-	b.Do(sell(2, 9, 1))
+	b.Do(Buy(1, 5, 1))
+	b.Do(Sell(2, 9, 1))
 	// Also one that would trade at once, and rest with nothing.
-	refuses(t, b, buy(3, 9, 1), api.ErrFull)
+	refuses(t, b, Buy(3, 9, 1), api.ErrFull)
 	for i, kind := range []int{api.IOC, api.FOK} {
-		c := order(uint64(3+i), api.Buy, kind, 8, 1)
-		tells(t, b, c, acked(c), ended(c.ID, 1, []int{api.ByRest, api.ByFill}[i]))
+		c := Order(uint64(3+i), api.Buy, kind, 8, 1)
+		tells(t, b, c, Acked(c), Ended(c.ID, 1, []int{api.ByRest, api.ByFill}[i]))
 	}
-	tells(t, b, replace(1, 5, 6, 4), ended(1, 1, api.ByReplace), acked(buy(5, 6, 4)))
-	c := order(6, api.Buy, api.Market, 0, 1)
-	tells(t, b, c, acked(c), traded(6, 2, api.Buy, 9, 1))
-	tells(t, b, buy(7, 1, 1), acked(buy(7, 1, 1)))
-	refuses(t, b, buy(8, 1, 1), api.ErrFull)
+	tells(t, b, Replace(1, 5, 6, 4), Ended(1, 1, api.ByReplace), Acked(Buy(5, 6, 4)))
+	c := Order(6, api.Buy, api.Market, 0, 1)
+	tells(t, b, c, Acked(c), Traded(6, 2, api.Buy, 9, 1))
+	tells(t, b, Buy(7, 1, 1), Acked(Buy(7, 1, 1)))
+	refuses(t, b, Buy(8, 1, 1), api.ErrFull)
 }
 
 func TestP9_4Asked(t *testing.T) {
 	b := made(t, api.Config{Capacity: 9})
-	for _, c := range []api.Command{buy(1, 5, 2), buy(2, 7, 1), peaked(buy(3, 5, 100), 4), sell(4, 9, 1), sell(6, 8, 3), buy(7, 7, 5)} {
+	for _, c := range []api.Command{Buy(1, 5, 2), Buy(2, 7, 1), Peaked(Buy(3, 5, 100), 4), Sell(4, 9, 1), Sell(6, 8, 3), Buy(7, 7, 5)} {
 		b.Do(c)
 	}
 	buys := []api.Level{{Price: 7, Qty: 6, Count: 2}, {Price: 5, Qty: 6, Count: 2}}
@@ -404,7 +405,7 @@ func TestP9_4Asked(t *testing.T) {
 }
 
 func TestP9_4EmptySide(t *testing.T) {
-	b := of(t, sell(1, 0, 1))
+	b := of(t, Sell(1, 0, 1))
 	same(t, "Best", best(b, api.Buy), top{})
 	sameList(t, "Depth", b.Depth(api.Buy, 1), nil)
 	same(t, "Best", best(b, api.Sell), top{api.Level{Qty: 1, Count: 1}, true})

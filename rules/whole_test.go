@@ -5,6 +5,7 @@ import (
 
 	"bourse/api"
 	"bourse/rules"
+	. "bourse/sample"
 )
 
 // ledger is what events told of an order.
@@ -159,11 +160,11 @@ func kindsHold(t *testing.T, l []api.Event, before, after api.Book) {
 func TestP9_5ToP9_8AndP9_10HeldToAccount(t *testing.T) {
 	for meet := range 4 {
 		for _, capacity := range []int{1, 3, 20} {
-			mix := mixer(500*capacity + meet)
+			mix := Mixer(500*capacity + meet)
 			c := api.Config{Capacity: capacity, Meet: meet}
 			b, a := made(t, c), accountOf(c)
 			for range long / 2 {
-				do := likely(&mix, a.high, 1+mix.below(7))
+				do := Likely(&mix, a.high, 1+mix.Below(7))
 				before := b.Book()
 				l := b.Do(do)
 				kindsHold(t, l, before, b.Book())
@@ -179,34 +180,34 @@ func TestP9_5ToP9_8AndP9_10HeldToAccount(t *testing.T) {
 
 func TestP9_5NeverCrossed(t *testing.T) {
 	// What is left of an order rests at its own price only where nothing is left that it would meet.
-	b := of(t, sell(1, 5, 1), sell(2, 6, 1), buy(3, 5, 4))
+	b := of(t, Sell(1, 5, 1), Sell(2, 6, 1), Buy(3, 5, 4))
 	same(t, "Best", best(b, api.Buy), top{api.Level{Price: 5, Qty: 3, Count: 1}, true})
 	same(t, "Best", best(b, api.Sell), top{api.Level{Price: 6, Qty: 1, Count: 1}, true})
-	tells(t, b, sell(4, 0, 5), acked(sell(4, 0, 5)), traded(4, 3, api.Sell, 5, 3))
+	tells(t, b, Sell(4, 0, 5), Acked(Sell(4, 0, 5)), Traded(4, 3, api.Sell, 5, 3))
 	sameList(t, "Depth", b.Depth(api.Sell, 9), []api.Level{{Price: 0, Qty: 2, Count: 1}, {Price: 6, Qty: 1, Count: 1}})
 	same(t, "Best", best(b, api.Buy), top{})
 }
 
 func TestP9_6GreatestQuantities(t *testing.T) {
 	const most = 1<<32 - 1
-	b := of(t, peaked(sell(1, 9, most), 1<<24), sell(2, 9, most))
+	b := of(t, Peaked(Sell(1, 9, most), 1<<24), Sell(2, 9, most))
 	// Behind its first peak the plain order stands ahead of it.
-	c := order(3, api.Buy, api.Market, 0, 1<<24+most)
+	c := Order(3, api.Buy, api.Market, 0, 1<<24+most)
 	refuses(t, b, c, api.ErrQty)
 	c.Qty = 1 << 24
-	tells(t, b, c, acked(c), traded(3, 1, api.Buy, 9, 1<<24), refreshed(1, 9, 1<<24))
-	b.Do(cancel(2))
-	c = order(4, api.Buy, api.FOK, 9, most-1<<24)
-	want := []api.Event{acked(c)}
+	tells(t, b, c, Acked(c), Traded(3, 1, api.Buy, 9, 1<<24), Refreshed(1, 9, 1<<24))
+	b.Do(Cancel(2))
+	c = Order(4, api.Buy, api.FOK, 9, most-1<<24)
+	want := []api.Event{Acked(c)}
 	for show := 2; show <= 256; show++ {
 		qty := uint64(1 << 24)
 		if show == 256 {
 			qty--
 		}
 		if show > 2 {
-			want = append(want, refreshed(1, 9, qty))
+			want = append(want, Refreshed(1, 9, qty))
 		}
-		want = append(want, traded(4, 1, api.Buy, 9, qty))
+		want = append(want, Traded(4, 1, api.Buy, 9, qty))
 	}
 	tells(t, b, c, want...)
 	same(t, "Len", b.Len(), 0)
@@ -216,18 +217,18 @@ func TestP9_6FullBook(t *testing.T) {
 	const most = 1<<32 - 1
 	b := made(t, api.Config{Capacity: 4096})
 	for id := range uint64(4096) {
-		c := sell(id+1, api.Ticks-1, most)
-		tells(t, b, c, acked(c))
+		c := Sell(id+1, api.Ticks-1, most)
+		tells(t, b, c, Acked(c))
 	}
-	refuses(t, b, buy(5000, 0, 1), api.ErrFull)
+	refuses(t, b, Buy(5000, 0, 1), api.ErrFull)
 	same(t, "Best", best(b, api.Sell), top{api.Level{Price: api.Ticks - 1, Qty: 4096 * most, Count: 4096}, true})
 	x := b.Book()
 	same(t, "Valid", rules.Valid(x), api.OK)
 	x.Config.Capacity--
 	same(t, "Valid", rules.Valid(x), api.ErrBook)
-	c := order(5000, api.Buy, api.IOC, api.Ticks-1, most)
-	tells(t, b, c, acked(c), traded(5000, 1, api.Buy, api.Ticks-1, most))
-	tells(t, b, buy(5001, 0, 1), acked(buy(5001, 0, 1)))
+	c := Order(5000, api.Buy, api.IOC, api.Ticks-1, most)
+	tells(t, b, c, Acked(c), Traded(5000, 1, api.Buy, api.Ticks-1, most))
+	tells(t, b, Buy(5001, 0, 1), Acked(Buy(5001, 0, 1)))
 }
 
 func TestP9_6ManyShows(t *testing.T) {
@@ -235,9 +236,9 @@ func TestP9_6ManyShows(t *testing.T) {
 	const icebergs, shows = 300, 256
 	b := made(t, api.Config{Capacity: icebergs})
 	for id := range uint64(icebergs) {
-		b.Do(peaked(sell(id+1, 7, shows), 1))
+		b.Do(Peaked(Sell(id+1, 7, shows), 1))
 	}
-	l := b.Do(order(1000, api.Buy, api.FOK, 7, icebergs*shows))
+	l := b.Do(Order(1000, api.Buy, api.FOK, 7, icebergs*shows))
 	var others []uint64
 	refreshes := 0
 	for _, e := range l {
@@ -259,36 +260,36 @@ func TestP9_6ManyShows(t *testing.T) {
 
 func TestP9_7PriceAndTime(t *testing.T) {
 	b := made(t, api.Config{Capacity: 9})
-	for _, c := range []api.Command{buy(1, 5, 2), buy(2, 6, 2), buy(3, 5, 2), buy(4, 6, 2), buy(5, 4, 2)} {
+	for _, c := range []api.Command{Buy(1, 5, 2), Buy(2, 6, 2), Buy(3, 5, 2), Buy(4, 6, 2), Buy(5, 4, 2)} {
 		b.Do(c)
 	}
-	c := sell(6, 5, 9)
-	tells(t, b, c, acked(c), traded(6, 2, api.Sell, 6, 2), traded(6, 4, api.Sell, 6, 2), traded(6, 1, api.Sell, 5, 2), traded(6, 3, api.Sell, 5, 2))
+	c := Sell(6, 5, 9)
+	tells(t, b, c, Acked(c), Traded(6, 2, api.Sell, 6, 2), Traded(6, 4, api.Sell, 6, 2), Traded(6, 1, api.Sell, 5, 2), Traded(6, 3, api.Sell, 5, 2))
 	sameList(t, "Depth", b.Depth(api.Sell, 9), []api.Level{{Price: 5, Qty: 1, Count: 1}})
 	// One that traded in part keeps its place.
-	b = of(t, sell(1, 5, 3), sell(2, 5, 3))
-	b.Do(order(3, api.Buy, api.IOC, 5, 1))
-	c = order(4, api.Buy, api.IOC, 5, 3)
-	tells(t, b, c, acked(c), traded(4, 1, api.Buy, 5, 2), traded(4, 2, api.Buy, 5, 1))
+	b = of(t, Sell(1, 5, 3), Sell(2, 5, 3))
+	b.Do(Order(3, api.Buy, api.IOC, 5, 1))
+	c = Order(4, api.Buy, api.IOC, 5, 3)
+	tells(t, b, c, Acked(c), Traded(4, 1, api.Buy, 5, 2), Traded(4, 2, api.Buy, 5, 1))
 }
 
 func TestP9_7ARefreshLosesItsPlace(t *testing.T) {
-	b := of(t, peaked(sell(1, 5, 5), 2), sell(2, 5, 2), sell(3, 6, 1))
+	b := of(t, Peaked(Sell(1, 5, 5), 2), Sell(2, 5, 2), Sell(3, 6, 1))
 	// It is refreshed as soon as it shows nothing, also where nothing is left of the one that comes.
-	c := buy(4, 5, 2)
-	tells(t, b, c, acked(c), traded(4, 1, api.Buy, 5, 2), refreshed(1, 5, 2))
+	c := Buy(4, 5, 2)
+	tells(t, b, c, Acked(c), Traded(4, 1, api.Buy, 5, 2), Refreshed(1, 5, 2))
 	sameList(t, "Sells", b.Book().Sells, []api.Resting{{ID: 2, Type: 1, Price: 5, Visible: 2}, {ID: 1, Type: 1, Price: 5, Visible: 2, Hidden: 1, Peak: 2}, {ID: 3, Type: 1, Price: 6, Visible: 1}})
-	c = buy(5, 6, 5)
-	tells(t, b, c, acked(c), traded(5, 2, api.Buy, 5, 2), traded(5, 1, api.Buy, 5, 2), refreshed(1, 5, 1), traded(5, 1, api.Buy, 5, 1))
+	c = Buy(5, 6, 5)
+	tells(t, b, c, Acked(c), Traded(5, 2, api.Buy, 5, 2), Traded(5, 1, api.Buy, 5, 2), Refreshed(1, 5, 1), Traded(5, 1, api.Buy, 5, 1))
 }
 
 func TestP9_8Fill(t *testing.T) {
-	sells := []api.Command{peaked(sell(1, 5, 6), 2), sell(2, 5, 3), sell(3, 6, 1)}
+	sells := []api.Command{Peaked(Sell(1, 5, 6), 2), Sell(2, 5, 3), Sell(3, 6, 1)}
 	for qty := uint64(1); qty <= 12; qty++ {
 		for price := 4; price <= 7; price++ {
 			b := of(t, sells...)
 			before := b.Book()
-			c := order(4, api.Buy, api.FOK, price, qty)
+			c := Order(4, api.Buy, api.FOK, price, qty)
 			l := b.Do(c)
 			could := map[int]uint64{4: 0, 5: 9, 6: 10, 7: 10}[price]
 			if qty > could {
@@ -299,7 +300,7 @@ func TestP9_8Fill(t *testing.T) {
 			}
 			// What it tells is what an IOC does, but for its type.
 			ioc := of(t, sells...)
-			want := ioc.Do(order(4, api.Buy, api.IOC, price, qty))
+			want := ioc.Do(Order(4, api.Buy, api.IOC, price, qty))
 			want[0].Type = api.FOK
 			sameList(t, "Do", l, want)
 			sameBook(t, "Book", b.Book(), ioc.Book())
@@ -312,11 +313,11 @@ func TestP9_8FillAmongItsOwn(t *testing.T) {
 	for meet, could := range []uint64{12, 2, 9, 2} {
 		for qty := uint64(1); qty <= 13; qty++ {
 			b := made(t, api.Config{Capacity: 9, Meet: meet})
-			b.Do(peaked(sell(1, 5, 6), 2))
-			b.Do(by(sell(2, 5, 3), 7))
-			b.Do(sell(3, 6, 3))
+			b.Do(Peaked(Sell(1, 5, 6), 2))
+			b.Do(By(Sell(2, 5, 3), 7))
+			b.Do(Sell(3, 6, 3))
 			before := b.Book()
-			c := by(order(4, api.Buy, api.FOK, 6, qty), 7)
+			c := By(Order(4, api.Buy, api.FOK, 6, qty), 7)
 			l := b.Do(c)
 			var sum uint64
 			for _, e := range l {
@@ -335,29 +336,29 @@ func TestP9_8FillAmongItsOwn(t *testing.T) {
 }
 
 func TestP9_8MarketsAndIOCsNeverRest(t *testing.T) {
-	b := of(t, sell(1, 5, 1), sell(2, api.Ticks-1, 1))
-	c := order(3, api.Buy, api.IOC, 6, 4)
-	tells(t, b, c, acked(c), traded(3, 1, api.Buy, 5, 1), ended(3, 3, api.ByRest))
-	c = order(4, api.Buy, api.Market, 0, 4)
-	tells(t, b, c, acked(c), traded(4, 2, api.Buy, api.Ticks-1, 1), ended(4, 3, api.ByRest))
-	c = order(5, api.Sell, api.Market, 0, 4)
-	tells(t, b, c, acked(c), ended(5, 4, api.ByRest))
-	b.Do(buy(6, 0, 1))
-	c = order(7, api.Sell, api.Market, 0, 1)
-	tells(t, b, c, acked(c), traded(7, 6, api.Sell, 0, 1))
+	b := of(t, Sell(1, 5, 1), Sell(2, api.Ticks-1, 1))
+	c := Order(3, api.Buy, api.IOC, 6, 4)
+	tells(t, b, c, Acked(c), Traded(3, 1, api.Buy, 5, 1), Ended(3, 3, api.ByRest))
+	c = Order(4, api.Buy, api.Market, 0, 4)
+	tells(t, b, c, Acked(c), Traded(4, 2, api.Buy, api.Ticks-1, 1), Ended(4, 3, api.ByRest))
+	c = Order(5, api.Sell, api.Market, 0, 4)
+	tells(t, b, c, Acked(c), Ended(5, 4, api.ByRest))
+	b.Do(Buy(6, 0, 1))
+	c = Order(7, api.Sell, api.Market, 0, 1)
+	tells(t, b, c, Acked(c), Traded(7, 6, api.Sell, 0, 1))
 	same(t, "Len", b.Len(), 0)
 }
 
 func TestP9_9ABookIsEnough(t *testing.T) {
 	for meet := range 4 {
-		mix := mixer(99 + meet)
+		mix := Mixer(99 + meet)
 		c := api.Config{Capacity: 10, Meet: meet}
 		a, other := made(t, c), made(t, api.Config{Capacity: 1, Meet: 3 - meet})
 		for range long {
-			do := likely(&mix, a.Book().High, 1+mix.below(6))
-			if mix.below(10) == 0 {
+			do := Likely(&mix, a.Book().High, 1+mix.Below(6))
+			if mix.Below(10) == 0 {
 				// It goes on in a book that held something else.
-				other = pick(&mix, other, made(t, api.Config{Capacity: 2}), loaded(t, fair()))
+				other = Pick(&mix, other, made(t, api.Config{Capacity: 2}), loaded(t, fair()))
 				same(t, "Load", other.Load(a.Book()), api.OK)
 				sameBook(t, "Book", other.Book(), a.Book())
 				sameList(t, "Do", other.Do(do), a.Do(do))
@@ -373,7 +374,7 @@ func TestP9_9ABookIsEnough(t *testing.T) {
 func TestP9_10Numbers(t *testing.T) {
 	b := of(t)
 	var seq, high uint64
-	for _, c := range []api.Command{sell(3, 5, 2), cancel(9), buy(3, 1, 1), buy(5, 6, 1), replace(3, 6, 7, 1), {}, order(7, api.Sell, api.FOK, 1, 1), cancel(6), buy(9, 1, 0), replace(6, 12, 1, 1)} {
+	for _, c := range []api.Command{Sell(3, 5, 2), Cancel(9), Buy(3, 1, 1), Buy(5, 6, 1), Replace(3, 6, 7, 1), {}, Order(7, api.Sell, api.FOK, 1, 1), Cancel(6), Buy(9, 1, 0), Replace(6, 12, 1, 1)} {
 		for _, e := range b.Do(c) {
 			seq++
 			same(t, "Seq", e.Seq, seq)
