@@ -95,11 +95,11 @@ func (m *model) at(id uint64) int {
 	return slices.IndexFunc(m.heap, func(w waiting) bool { return w.order.ID == id })
 }
 
-func (m *model) find(id uint64) found {
+func (m *model) find(id uint64) Found {
 	if i := m.at(id); i >= 0 {
-		return found{m.heap[i].order, m.heap[i].side, true}
+		return Found{Order: m.heap[i].order, Side: m.heap[i].side, There: true}
 	}
-	return found{}
+	return Found{}
 }
 
 func (m *model) drop(id uint64) waiting {
@@ -176,7 +176,7 @@ func (m *model) refusal(c api.Command) api.Errno {
 		return 98
 	}
 	if c.Kind == 3 {
-		c.Type, c.Side = m.find(c.Target).order.Type, m.find(c.Target).side
+		c.Type, c.Side = m.find(c.Target).Order.Type, m.find(c.Target).Side
 	}
 	if c.Type == 5 && len(m.met(c)) > 0 {
 		return 99
@@ -333,50 +333,13 @@ func restingCanBe(r api.Resting) bool {
 	return r.Visible <= r.Peak && all.Cmp(shows) <= 0
 }
 
-// found is what Find answers.
-type found struct {
-	order api.Resting
-	side  int
-	ok    bool
-}
-
-func find(b *rules.Book, id uint64) found {
-	r, side, ok := b.Find(id)
-	return found{r, side, ok}
-}
-
-// top is what Best answers.
-type top struct {
-	level api.Level
-	ok    bool
-}
-
-func best(b *rules.Book, side int) top {
-	l, ok := b.Best(side)
-	return top{l, ok}
-}
-
-func same[T comparable](t *testing.T, what string, a, b T) {
-	t.Helper()
-	if a != b {
-		t.Fatalf("%s: got %+v, wanted %+v", what, a, b)
-	}
-}
-
-func sameList[T comparable](t *testing.T, what string, a, b []T) {
-	t.Helper()
-	if !slices.Equal(a, b) {
-		t.Fatalf("%s: got %+v, wanted %+v", what, a, b)
-	}
-}
-
 func sameBook(t *testing.T, what string, a, b api.Book) {
 	t.Helper()
-	same(t, what+": Config", a.Config, b.Config)
-	sameList(t, what+": Buys", a.Buys, b.Buys)
-	sameList(t, what+": Sells", a.Sells, b.Sells)
-	same(t, what+": High", a.High, b.High)
-	same(t, what+": Seq", a.Seq, b.Seq)
+	Same(t, what+": Config", a.Config, b.Config)
+	SameList(t, what+": Buys", a.Buys, b.Buys)
+	SameList(t, what+": Sells", a.Sells, b.Sells)
+	Same(t, what+": High", a.High, b.High)
+	Same(t, what+": Seq", a.Seq, b.Seq)
 }
 
 func made(t *testing.T, c api.Config) *rules.Book {
@@ -388,64 +351,30 @@ func made(t *testing.T, c api.Config) *rules.Book {
 	return b
 }
 
-// of is a book of the Capacity 4 (of Meet 0) that has done these.
-func of(t *testing.T, commands ...api.Command) *rules.Book {
-	t.Helper()
-	b := made(t, api.Config{Capacity: 4})
-	for _, c := range commands {
-		b.Do(c)
-	}
-	return b
-}
-
-func loaded(t *testing.T, x api.Book) *rules.Book {
-	t.Helper()
-	b := made(t, api.Config{Capacity: 1})
-	same(t, "Load", b.Load(x), api.OK)
-	return b
-}
-
 // looked holds all that can be seen of a book against the model.
 func looked(t *testing.T, b *rules.Book, want *model) {
 	t.Helper()
 	x := want.book()
 	sameBook(t, "Book", b.Book(), x)
-	same(t, "Len", b.Len(), len(x.Buys)+len(x.Sells))
+	Same(t, "Len", b.Len(), len(x.Buys)+len(x.Sells))
 	for _, side := range []int{math.MinInt, -1, 0, 1, 2, 3, math.MaxInt} {
 		for _, most := range []int{math.MinInt, -1, 0, 1, 2, 3, len(want.heap), math.MaxInt} {
-			sameList(t, "Depth", b.Depth(side, most), want.depth(side, most))
+			SameList(t, "Depth", b.Depth(side, most), want.depth(side, most))
 		}
 		if l := want.depth(side, 1); len(l) == 1 {
-			same(t, "Best", best(b, side), top{l[0], true})
+			Same(t, "Best", Best(b, side), Top{Level: l[0], There: true})
 		} else {
-			same(t, "Best", best(b, side), top{})
+			Same(t, "Best", Best(b, side), Top{})
 		}
 	}
 	for id := range want.high + 2 {
 		if id == 50 {
 			break
 		}
-		same(t, "Find", find(b, id), want.find(id))
+		Same(t, "Find", Find(b, id), want.find(id))
 	}
-	same(t, "Find", find(b, math.MaxUint64), want.find(math.MaxUint64))
+	Same(t, "Find", Find(b, math.MaxUint64), want.find(math.MaxUint64))
 }
 
 // long is how many commands each of the long runs does.
 const long = 4000
-
-// tells does a command that must tell these events, numbered from the book's Seq on.
-func tells(t *testing.T, b *rules.Book, c api.Command, want ...api.Event) {
-	t.Helper()
-	seq := b.Book().Seq
-	sameList(t, "Do", b.Do(c), Numbered(seq, want...))
-	same(t, "Seq", b.Book().Seq, seq+uint64(len(want)))
-}
-
-// refuses does a command that must be refused, and change nothing but Seq.
-func refuses(t *testing.T, b *rules.Book, c api.Command, why api.Errno) {
-	t.Helper()
-	x := b.Book()
-	x.Seq++
-	tells(t, b, c, Rejected(c, why))
-	sameBook(t, "Book behind a refusal", b.Book(), x)
-}

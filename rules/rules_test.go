@@ -2,7 +2,6 @@ package rules_test
 
 import (
 	"math"
-	"slices"
 	"testing"
 
 	"bourse/api"
@@ -18,7 +17,7 @@ func TestP9_1ConfigsThatCantBe(t *testing.T) {
 		if b, why := rules.New(c); b != nil || why != api.ErrArg {
 			t.Errorf("New(%v): %v, %v", c, b, why)
 		}
-		same(t, "Valid", rules.Valid(api.Book{Config: c}), api.ErrBook)
+		Same(t, "Valid", rules.Valid(api.Book{Config: c}), api.ErrBook)
 	}
 }
 
@@ -27,19 +26,8 @@ func TestP9_1ConfigsThatCanBe(t *testing.T) {
 		for meet := range 4 {
 			c := api.Config{Capacity: capacity, Meet: meet}
 			looked(t, made(t, c), &model{config: c})
-			same(t, "Valid", rules.Valid(api.Book{Config: c}), api.OK)
+			Same(t, "Valid", rules.Valid(api.Book{Config: c}), api.OK)
 		}
-	}
-}
-
-// fair is a book with which nothing is wrong: each test spoils one thing of it.
-func fair() api.Book {
-	return api.Book{
-		Config: api.Config{Capacity: 4, Meet: 2},
-		Buys:   []api.Resting{{ID: 3, Member: 7, Type: api.Limit, Price: 10, Visible: 5}, {ID: 9, Type: api.PostOnly, Price: 10, Visible: 2, Hidden: 4, Peak: 3}},
-		Sells:  []api.Resting{{ID: 1, Type: api.Limit, Price: 11, Visible: 1, Peak: 1}, {ID: 2, Type: api.Limit, Price: 12, Visible: 1}},
-		High:   9,
-		Seq:    40,
 	}
 }
 
@@ -95,7 +83,7 @@ func TestP9_1Valid(t *testing.T) {
 		"a sum that wraps":             {func(b *api.Book) { b.Buys[1].Peak, b.Buys[1].Hidden = most, math.MaxUint64 }, 120},
 		"what it hides wraps to order": {func(b *api.Book) { b.Buys[1].Hidden = math.MaxUint64 - 1 }, 120},
 	} {
-		b := fair()
+		b := Fair()
 		x.spoil(&b)
 		if got := rules.Valid(b); got != x.want || wantedValid(b) != x.want {
 			t.Errorf("%s: got %v, wanted %v (the model: %v)", name, got, x.want, wantedValid(b))
@@ -133,88 +121,11 @@ func TestP9_1ValidOfManyBooks(t *testing.T) {
 		if want == 0 {
 			can++
 		}
-		same(t, "Valid", rules.Valid(b), want)
+		Same(t, "Valid", rules.Valid(b), want)
 	}
 	if can < 5000 || can > 55000 {
 		t.Errorf("only %d of the books can be", can)
 	}
-}
-
-func TestP9_1Load(t *testing.T) {
-	b := of(t, Buy(1, 3, 2), Sell(2, 5, 1))
-	x := fair()
-	same(t, "Load", b.Load(x), api.OK)
-	looked(t, b, modelOf(x))
-	sameBook(t, "what was handed in", x, fair())
-	x.Sells[0].Visible = 0
-	same(t, "Load of what can't be", b.Load(x), api.ErrBook)
-	// The config is the one that it had, not that of the book that can't be.
-	x.Config = api.Config{Capacity: 2}
-	looked(t, b, &model{config: fair().Config})
-	same(t, "Load of what can't be", b.Load(x), api.ErrBook)
-	looked(t, b, &model{config: fair().Config})
-	tells(t, b, Buy(1, 10, 1), Acked(Buy(1, 10, 1)))
-	same(t, "Load of an empty book", b.Load(api.Book{Config: api.Config{Capacity: 1}}), api.OK)
-	looked(t, b, &model{config: api.Config{Capacity: 1}})
-}
-
-func TestP9_1NothingIsShared(t *testing.T) {
-	x := fair()
-	x.Buys = append(make([]api.Resting, 0, 9), x.Buys...)
-	b := loaded(t, x)
-	spoil := func(l []api.Resting) {
-		l = l[:cap(l)]
-		for i := range l {
-			l[i] = api.Resting{ID: 77}
-		}
-	}
-	spoil(x.Buys)
-	spoil(x.Sells)
-	looked(t, b, modelOf(fair()))
-	told, again := b.Book(), b.Book()
-	spoil(told.Buys)
-	sameList(t, "Sells beside Buys", told.Sells, fair().Sells)
-	spoil(told.Sells)
-	sameBook(t, "another answer", again, fair())
-	levels := b.Depth(api.Buy, 9)
-	for i := range levels[:cap(levels)] {
-		levels[:cap(levels)][i] = api.Level{Price: 77}
-	}
-	looked(t, b, modelOf(fair()))
-	events := b.Do(Sell(10, 10, 20))
-	kept := slices.Clone(events)
-	book := b.Book()
-	b.Do(Buy(11, 12, 20))
-	sameList(t, "events of before", events, kept)
-	same(t, "Load", b.Load(book), api.OK)
-	for i := range events[:cap(events)] {
-		events[:cap(events)][i] = api.Event{ID: 77}
-	}
-	sameBook(t, "Book", b.Book(), book)
-}
-
-func TestP9_1TwoBooksKnowNothingOfOneAnother(t *testing.T) {
-	a, b := loaded(t, fair()), loaded(t, fair())
-	a.Do(Cancel(3))
-	a.Do(Sell(10, 10, 1))
-	looked(t, b, modelOf(fair()))
-}
-
-func TestP9_1BookThatNewDidNotMake(t *testing.T) {
-	// What it answers is open, but no call may panic.
-	var b rules.Book
-	mix := Mixer(90)
-	for range 500 {
-		b.Do(Wild(&mix, 5, 5))
-	}
-	b.Book()
-	b.Best(1)
-	b.Depth(2, 9)
-	b.Find(1)
-	b.Len()
-	b.Load(api.Book{})
-	same(t, "Load", b.Load(fair()), api.OK)
-	looked(t, &b, modelOf(fair()))
 }
 
 func TestP9_2Check(t *testing.T) {
@@ -291,122 +202,11 @@ func TestP9_2CheckOfManyCommands(t *testing.T) {
 		c := Wild(&mix, 9, 9)
 		want := wantedCheck(c)
 		seen[want]++
-		same(t, "Check", rules.Check(c), want)
+		Same(t, "Check", rules.Check(c), want)
 	}
 	for _, why := range []api.Errno{0, 90, 92, 93, 94, 95, 96, 97} {
 		if seen[why] < 500 {
 			t.Errorf("the answer %v was seen %d times", why, seen[why])
 		}
 	}
-}
-
-func TestP9_2TheFirstRefusal(t *testing.T) {
-	b := of(t, Buy(1, 5, 1), Buy(2, 5, 1), Sell(5, 9, 1), Order(6, api.Sell, api.PostOnly, 9, 1))
-	// The book is full, and 6 is the greatest ID.
-	refuses(t, b, api.Command{Kind: 7, ID: 1, Target: 99}, api.ErrKind)
-	refuses(t, b, api.Command{ID: 8, Target: 1}, api.ErrKind)
-	refuses(t, b, Cancel(99), api.ErrTarget)
-	refuses(t, b, Cancel(0), api.ErrTarget)
-	refuses(t, b, Cancel(math.MaxUint64), api.ErrTarget)
-	refuses(t, b, api.Command{Kind: api.Cancel, ID: 8, Target: 3}, api.ErrTarget)
-	refuses(t, b, Replace(99, 0, -1, 0), api.ErrTarget)
-	refuses(t, b, Replace(1, 0, -1, 0), api.ErrPrice)
-	refuses(t, b, Replace(1, 0, 5, 0), api.ErrQty)
-	refuses(t, b, Peaked(Replace(1, 0, 5, 1), 2), api.ErrPeak)
-	refuses(t, b, Replace(1, 0, 5, 1), api.ErrID)
-	refuses(t, b, Replace(1, 6, 5, 1), api.ErrID)
-	refuses(t, b, Replace(6, 6, 5, 1), api.ErrID)
-	refuses(t, b, Replace(6, 7, 5, 1), api.ErrCross)
-	refuses(t, b, api.Command{Kind: api.New, Target: 1}, api.ErrSide)
-	refuses(t, b, Order(0, api.Buy, 9, -1, 0), api.ErrType)
-	refuses(t, b, Order(0, api.Buy, api.Limit, -1, 0), api.ErrPrice)
-	refuses(t, b, Order(0, api.Buy, api.Limit, 1, 0), api.ErrQty)
-	refuses(t, b, Peaked(Order(0, api.Buy, api.IOC, 1, 1), 1), api.ErrPeak)
-	refuses(t, b, Buy(0, 1, 1), api.ErrID)
-	refuses(t, b, Buy(6, 1, 1), api.ErrID)
-	refuses(t, b, Buy(7, 1, 1), api.ErrFull)
-	refuses(t, b, Order(7, api.Buy, api.PostOnly, 9, 1), api.ErrFull)
-	b.Do(Cancel(2))
-	refuses(t, b, Order(7, api.Buy, api.PostOnly, 9, 1), api.ErrCross)
-	refuses(t, b, Order(7, api.Sell, api.PostOnly, 5, 1), api.ErrCross)
-}
-
-func TestP9_2Cross(t *testing.T) {
-	sides := of(t, Buy(1, 5, 1), Sell(2, 7, 1))
-	for _, x := range []struct {
-		side, price int
-		cross       bool
-	}{{api.Buy, 6, false}, {api.Buy, 7, true}, {api.Buy, 8, true}, {api.Sell, 6, false}, {api.Sell, 5, true}, {api.Sell, 4, true}} {
-		b := loaded(t, sides.Book())
-		c := Order(3, x.side, api.PostOnly, x.price, 1)
-		if x.cross {
-			refuses(t, b, c, api.ErrCross)
-		} else {
-			tells(t, b, c, Acked(c))
-		}
-	}
-	// Whose the other order is does not matter.
-	b := made(t, api.Config{Capacity: 4, Meet: api.MeetOldest})
-	b.Do(By(Sell(1, 7, 1), 3))
-	refuses(t, b, By(Order(2, api.Buy, api.PostOnly, 7, 1), 3), api.ErrCross)
-	// A Replace is of the order's own side and type: a Limit may cross.
-	b = of(t, Order(1, api.Buy, api.PostOnly, 5, 1), Buy(2, 5, 1), Sell(3, 7, 1))
-	refuses(t, b, Replace(1, 4, 7, 1), api.ErrCross)
-	tells(t, b, Replace(1, 4, 6, 1), Ended(1, 1, api.ByReplace), Acked(Order(4, api.Buy, api.PostOnly, 6, 1)))
-	tells(t, b, Replace(2, 5, 7, 1), Ended(2, 1, api.ByReplace), Acked(Buy(5, 7, 1)), Traded(5, 3, api.Buy, 7, 1))
-}
-
-func TestP9_2Full(t *testing.T) {
-	b := made(t, api.Config{Capacity: 2})
-	b.Do(Buy(1, 5, 1))
-	b.Do(Sell(2, 9, 1))
-	// Also one that would trade at once, and rest with nothing.
-	refuses(t, b, Buy(3, 9, 1), api.ErrFull)
-	for i, kind := range []int{api.IOC, api.FOK} {
-		c := Order(uint64(3+i), api.Buy, kind, 8, 1)
-		tells(t, b, c, Acked(c), Ended(c.ID, 1, []int{api.ByRest, api.ByFill}[i]))
-	}
-	tells(t, b, Replace(1, 5, 6, 4), Ended(1, 1, api.ByReplace), Acked(Buy(5, 6, 4)))
-	c := Order(6, api.Buy, api.Market, 0, 1)
-	tells(t, b, c, Acked(c), Traded(6, 2, api.Buy, 9, 1))
-	tells(t, b, Buy(7, 1, 1), Acked(Buy(7, 1, 1)))
-	refuses(t, b, Buy(8, 1, 1), api.ErrFull)
-}
-
-func TestP9_4Asked(t *testing.T) {
-	b := made(t, api.Config{Capacity: 9})
-	for _, c := range []api.Command{Buy(1, 5, 2), Buy(2, 7, 1), Peaked(Buy(3, 5, 100), 4), Sell(4, 9, 1), Sell(6, 8, 3), Buy(7, 7, 5)} {
-		b.Do(c)
-	}
-	buys := []api.Level{{Price: 7, Qty: 6, Count: 2}, {Price: 5, Qty: 6, Count: 2}}
-	sells := []api.Level{{Price: 8, Qty: 3, Count: 1}, {Price: 9, Qty: 1, Count: 1}}
-	before := b.Book()
-	for most := range 4 {
-		sameList(t, "Depth", b.Depth(api.Buy, most), buys[:min(most, 2)])
-		sameList(t, "Depth", b.Depth(api.Sell, most), sells[:min(most, 2)])
-		sameList(t, "Depth", b.Depth(api.Sell, -most), nil)
-		sameList(t, "Depth", b.Depth(0, most), nil)
-		sameList(t, "Depth", b.Depth(3, most), nil)
-	}
-	sameList(t, "Depth", b.Depth(api.Buy, math.MaxInt), buys)
-	sameList(t, "Depth", b.Depth(api.Buy, math.MinInt), nil)
-	same(t, "Best", best(b, api.Buy), top{buys[0], true})
-	same(t, "Best", best(b, api.Sell), top{sells[0], true})
-	for _, side := range []int{0, 3, -1, math.MinInt, math.MaxInt} {
-		same(t, "Best", best(b, side), top{})
-	}
-	same(t, "Find", find(b, 3), found{api.Resting{ID: 3, Type: api.Limit, Price: 5, Visible: 4, Hidden: 96, Peak: 4}, api.Buy, true})
-	same(t, "Find", find(b, 6), found{api.Resting{ID: 6, Type: api.Limit, Price: 8, Visible: 3}, api.Sell, true})
-	for _, id := range []uint64{0, 5, 8, math.MaxUint64} {
-		same(t, "Find", find(b, id), found{})
-	}
-	same(t, "Len", b.Len(), 6)
-	sameBook(t, "Book", b.Book(), before)
-}
-
-func TestP9_4EmptySide(t *testing.T) {
-	b := of(t, Sell(1, 0, 1))
-	same(t, "Best", best(b, api.Buy), top{})
-	sameList(t, "Depth", b.Depth(api.Buy, 1), nil)
-	same(t, "Best", best(b, api.Sell), top{api.Level{Qty: 1, Count: 1}, true})
 }

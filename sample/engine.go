@@ -7,6 +7,17 @@ import (
 	"bourse/api"
 )
 
+// Fair is a book with which nothing is wrong.
+func Fair() api.Book {
+	return api.Book{
+		Config: api.Config{Capacity: 4, Meet: api.MeetOldest},
+		Buys:   []api.Resting{{ID: 3, Member: 7, Type: api.Limit, Price: 10, Visible: 5}, {ID: 9, Type: api.PostOnly, Price: 10, Visible: 2, Hidden: 4, Peak: 3}},
+		Sells:  []api.Resting{{ID: 1, Type: api.Limit, Price: 11, Visible: 1, Peak: 1}, {ID: 2, Type: api.Limit, Price: 12, Visible: 1}},
+		High:   9,
+		Seq:    40,
+	}
+}
+
 // SameBook tells whether two books are one.
 func SameBook(a, b api.Book) bool {
 	return a.Config == b.Config && slices.Equal(a.Buys, b.Buys) && slices.Equal(a.Sells, b.Sells) && a.High == b.High && a.Seq == b.Seq
@@ -20,11 +31,11 @@ func Differ(a, b api.Engine) string {
 		return "Book"
 	case a.Len() != b.Len():
 		return "Len"
-	case slices.ContainsFunc(numbersNear(x), func(id uint64) bool { return found(a, id) != found(b, id) }):
+	case slices.ContainsFunc(numbersNear(x), func(id uint64) bool { return Find(a, id) != Find(b, id) }):
 		return "Find"
 	}
 	for _, side := range []int{math.MinInt, -1, 0, api.Buy, api.Sell, 3, math.MaxInt} {
-		if top(a, side) != top(b, side) {
+		if Best(a, side) != Best(b, side) {
 			return "Best"
 		}
 		for _, most := range []int{math.MinInt, -1, 0, 1, 2, 3, a.Len(), math.MaxInt} {
@@ -45,25 +56,27 @@ func numbersNear(x api.Book) []uint64 {
 	return ids
 }
 
-// resting is what Find answers.
-type resting struct {
-	order api.Resting
-	side  int
-	there bool
+// Found is what Find answers.
+type Found struct {
+	Order api.Resting
+	Side  int
+	There bool
 }
 
-func found(e api.Engine, id uint64) resting {
+// Find is what an engine answers of an ID.
+func Find(e api.Engine, id uint64) Found {
 	r, side, there := e.Find(id)
-	return resting{r, side, there}
+	return Found{r, side, there}
 }
 
-// best is what Best answers.
-type best struct {
-	level api.Level
-	there bool
+// Top is what Best answers.
+type Top struct {
+	Level api.Level
+	There bool
 }
 
-func top(e api.Engine, side int) best {
+// Best is what an engine answers of a side.
+func Best(e api.Engine, side int) Top {
 	l, there := e.Best(side)
-	return best{l, there}
+	return Top{l, there}
 }

@@ -1,0 +1,62 @@
+package sample
+
+import (
+	"slices"
+
+	"bourse/api"
+)
+
+// Test is what ends when something is wrong: a *testing.T.
+type Test interface {
+	Helper()
+	Fatalf(form string, with ...any)
+}
+
+// Same ends a test where two things are not the same.
+func Same[T comparable](t Test, what string, got, want T) {
+	t.Helper()
+	if got != want {
+		t.Fatalf("%s: got %+v, wanted %+v", what, got, want)
+	}
+}
+
+// SameList ends a test where two lists are not the same.
+func SameList[T comparable](t Test, what string, got, want []T) {
+	t.Helper()
+	if !slices.Equal(got, want) {
+		t.Fatalf("%s: got %+v, wanted %+v", what, got, want)
+	}
+}
+
+// Keeps ends a test where an engine does not keep just that book.
+func Keeps(t Test, e api.Engine, want api.Book) {
+	t.Helper()
+	if x := e.Book(); !SameBook(x, want) {
+		t.Fatalf("Book: got %+v, wanted %+v", x, want)
+	}
+}
+
+// Tells does a command that must tell these events, numbered from the engine's Seq on.
+func Tells(t Test, e api.Engine, c api.Command, want ...api.Event) {
+	t.Helper()
+	seq := e.Book().Seq
+	SameList(t, "Do", e.Do(c), Numbered(seq, want...))
+	Same(t, "Seq", e.Book().Seq, seq+uint64(len(want)))
+}
+
+// Refuses does a command that must be refused, and change nothing but Seq.
+func Refuses(t Test, e api.Engine, c api.Command, why api.Errno) {
+	t.Helper()
+	x := e.Book()
+	x.Seq++
+	Tells(t, e, c, Rejected(c, why))
+	Keeps(t, e, x)
+}
+
+// Alike ends a test where two engines answer differently to anything that can be asked.
+func Alike(t Test, a, b api.Engine) {
+	t.Helper()
+	if call := Differ(a, b); call != "" {
+		t.Fatalf("%s is answered differently: by %T, which keeps %+v, and by %T, which keeps %+v", call, a, a.Book(), b, b.Book())
+	}
+}
