@@ -34,22 +34,7 @@ func TestP9_1Load(t *testing.T) {
 		Same(t, "Load", e.Load(x), api.OK)
 		is(t, e, Fair())
 		Same(t, "whether what was handed in is as it was", SameBook(x, Fair()), true)
-		for _, spoil := range []func(x *api.Book){
-			func(x *api.Book) { x.Config = api.Config{Capacity: 3} },
-			func(x *api.Book) { x.Config.Meet = 4 },
-			func(x *api.Book) { x.High = 8 },
-			func(x *api.Book) { x.Buys[0].ID = 0 },
-			func(x *api.Book) { x.Buys[0].ID = 2 },
-			func(x *api.Book) { x.Buys[0].Visible = 0 },
-			func(x *api.Book) { x.Buys[1].Hidden = math.MaxUint64 - 1 },
-			func(x *api.Book) { x.Buys[0].Price = 9 },
-			func(x *api.Book) { x.Sells[0].Price = 13 },
-			func(x *api.Book) { x.Sells[0].Price = 10 },
-			func(x *api.Book) { x.Sells[1].Price = api.Ticks },
-			func(x *api.Book) { x.Sells[1].Type = api.IOC },
-		} {
-			x := Fair()
-			spoil(&x)
+		for _, x := range Spoilt() {
 			Same(t, "Load of what can't be", e.Load(x), api.ErrBook)
 			// The config is the one that it had.
 			is(t, e, api.Book{Config: Fair().Config})
@@ -68,16 +53,16 @@ func TestP9_1P10_6NothingIsShared(t *testing.T) {
 		x := Fair()
 		x.Buys = append(make([]api.Resting, 0, 9), x.Buys...)
 		e := open.loaded(t, x)
-		spoil(x.Buys, api.Resting{ID: 77})
-		spoil(x.Sells, api.Resting{ID: 77})
+		Spoil(x.Buys, api.Resting{ID: 77})
+		Spoil(x.Sells, api.Resting{ID: 77})
 		is(t, e, Fair())
 		book, again := e.Book(), e.Book()
-		spoil(book.Buys, api.Resting{ID: 77})
+		Spoil(book.Buys, api.Resting{ID: 77})
 		SameList(t, "Sells beside Buys", book.Sells, Fair().Sells)
-		spoil(book.Sells, api.Resting{ID: 77})
+		Spoil(book.Sells, api.Resting{ID: 77})
 		Same(t, "whether another answer is as it was", SameBook(again, Fair()), true)
 		levels, more := e.Depth(api.Buy, 9), e.Depth(api.Buy, 9)
-		spoil(levels, api.Level{Price: 77})
+		Spoil(levels, api.Level{Price: 77})
 		SameList(t, "another Depth", more, levelsOf(Fair().Buys))
 		is(t, e, Fair())
 		events := e.Do(Sell(10, 10, 20))
@@ -86,17 +71,9 @@ func TestP9_1P10_6NothingIsShared(t *testing.T) {
 		e.Do(Buy(11, 12, 20))
 		SameList(t, "events of before", events, kept)
 		Same(t, "Load", e.Load(book), api.OK)
-		spoil(events, api.Event{ID: 77})
+		Spoil(events, api.Event{ID: 77})
 		is(t, e, book)
 	})
-}
-
-// spoil writes over a list and its spare room.
-func spoil[T any](l []T, with T) {
-	l = l[:cap(l)]
-	for i := range l {
-		l[i] = with
-	}
 }
 
 func TestP9_1TwoBooksKnowNothingOfOneAnother(t *testing.T) {

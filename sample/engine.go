@@ -18,6 +18,30 @@ func Fair() api.Book {
 	}
 }
 
+// Spoilt is books that can't be: each is the fair one but for one thing.
+func Spoilt() []api.Book {
+	var books []api.Book
+	for _, turn := range []func(x *api.Book){
+		func(x *api.Book) { x.Config = api.Config{Capacity: 3} },
+		func(x *api.Book) { x.Config.Meet = 4 },
+		func(x *api.Book) { x.High = 8 },
+		func(x *api.Book) { x.Buys[0].ID = 0 },
+		func(x *api.Book) { x.Buys[0].ID = 2 },
+		func(x *api.Book) { x.Buys[0].Visible = 0 },
+		func(x *api.Book) { x.Buys[1].Hidden = math.MaxUint64 - 1 },
+		func(x *api.Book) { x.Buys[0].Price = 9 },
+		func(x *api.Book) { x.Sells[0].Price = 13 },
+		func(x *api.Book) { x.Sells[0].Price = 10 },
+		func(x *api.Book) { x.Sells[1].Price = api.Ticks },
+		func(x *api.Book) { x.Sells[1].Type = api.IOC },
+	} {
+		x := Fair()
+		turn(&x)
+		books = append(books, x)
+	}
+	return books
+}
+
 // SameBook tells whether two books are one.
 func SameBook(a, b api.Book) bool {
 	return a.Config == b.Config && slices.Equal(a.Buys, b.Buys) && slices.Equal(a.Sells, b.Sells) && a.High == b.High && a.Seq == b.Seq

@@ -60,3 +60,11 @@ func Alike(t Test, a, b api.Engine) {
 		t.Fatalf("%s is answered differently: by %T, which keeps %+v, and by %T, which keeps %+v", call, a, a.Book(), b, b.Book())
 	}
 }
+
+// Spoil writes over a list and its spare room, so that whatever shares memory with it is seen.
+func Spoil[T any](l []T, with T) {
+	l = l[:cap(l)]
+	for i := range l {
+		l[i] = with
+	}
+}
