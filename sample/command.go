@@ -60,10 +60,19 @@ func Likely(x *Mixer, high uint64, prices int) api.Command {
 	return c
 }
 
+// oddities is counts and numbers about the ends of what can be.
+func oddities() []uint64 {
+	return []uint64{0, 1, 255, 256, 257, math.MaxUint32, math.MaxUint32 + 1, 1 << 56, math.MaxInt64, math.MaxUint64 - 1, math.MaxUint64}
+}
+
+// wrongs is sides, types and prices of which most can't be.
+func wrongs() []int {
+	return []int{math.MinInt, math.MinInt32, -1, 0, 3, 4, 5, 6, 7, api.Ticks - 1, api.Ticks, math.MaxInt32, math.MaxInt}
+}
+
 // Wild is a likely command of which some fields may be anything.
 func Wild(x *Mixer, high uint64, prices int) api.Command {
-	odd := []uint64{0, 1, 255, 256, 257, math.MaxUint32, math.MaxUint32 + 1, 1 << 56, math.MaxInt64, math.MaxUint64 - 1, math.MaxUint64}
-	wrong := []int{math.MinInt, math.MinInt32, -1, 0, 3, 4, 5, 6, 7, api.Ticks - 1, api.Ticks, math.MaxInt32, math.MaxInt}
+	odd, wrong := oddities(), wrongs()
 	c := Likely(x, high, prices)
 	for range 2 {
 		switch x.Below(24) {
