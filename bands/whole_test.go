@@ -19,7 +19,7 @@ type trio struct {
 func trioOf(t *testing.T, s api.Band, x api.Book) trio {
 	t.Helper()
 	w := trio{model: &model{book: x, band: s}}
-	for _, kind := range kinds() {
+	for _, kind := range Kinds() {
 		w.guards = append(w.guards, restored(t, kind, s, x))
 	}
 	return w
@@ -333,7 +333,7 @@ func TestP15_8StateAndBookAreEnough(t *testing.T) {
 		// Any of them goes on in another engine, from what any other one keeps.
 		for range mix.Below(3) {
 			from := Pick(mix, w.guards...)
-			w.guards[mix.Below(len(w.guards))] = restored(t, Pick(mix, kinds()...), from.State(), from.Book())
+			w.guards[mix.Below(len(w.guards))] = restored(t, Pick(mix, Kinds()...), from.State(), from.Book())
 			moved++
 		}
 		if mix.Below(8) == 0 {

@@ -17,25 +17,8 @@ import (
 
 // The tests lay out a journal's bytes by encoding/binary and hash/crc32, also those that no journal has, and hold what is found against a model that makes a list book anew for each command and keeps how all stood behind each batch.
 
-// kinds is those of engines that there are.
-func kinds() []int { return []int{api.Tree, api.Ladder, api.List} }
-
-// noKinds is some engines that there are not.
-func noKinds() []int { return []int{math.MinInt, -1, 0, 4, 9, 255, 256, 257, math.MaxInt} }
-
 // small is the config of the chapter's examples.
 func small() api.Config { return api.Config{Capacity: 4} }
-
-// configs is some, and whether they can be.
-func configs() map[api.Config]bool {
-	l := map[api.Config]bool{}
-	for _, capacity := range []int{math.MinInt, -1, 0, 1, 4, 4096, 4097, math.MaxInt} {
-		for _, meet := range []int{math.MinInt, -1, 0, 1, 2, 3, 4, math.MaxInt} {
-			l[api.Config{Capacity: capacity, Meet: meet}] = capacity >= 1 && capacity <= 4096 && meet >= 0 && meet <= 3
-		}
-	}
-	return l
-}
 
 // laid is the bytes of a frame of a kind, whatever its words say.
 func laid(kind byte, words ...uint64) []byte {
@@ -207,7 +190,7 @@ func (m *model) behind(size int) state {
 // is ends a test where a journal stands otherwise, or has other bytes.
 func is(t *testing.T, j *journal.Journal, want state, b []byte) {
 	t.Helper()
-	sameBytes(t, "Bytes", j.Bytes(), b)
+	SameBytes(t, "Bytes", j.Bytes(), b)
 	if x := j.Book(); !SameBook(x, want.book) {
 		t.Fatalf("Book: got %+v, wanted %+v", x, want.book)
 	}
@@ -220,19 +203,6 @@ func is(t *testing.T, j *journal.Journal, want state, b []byte) {
 func isModel(t *testing.T, j *journal.Journal, m *model) {
 	t.Helper()
 	is(t, j, m.now(), m.b)
-}
-
-// sameBytes ends a test where bytes are not the same.
-func sameBytes(t *testing.T, what string, got, want []byte) {
-	t.Helper()
-	if bytes.Equal(got, want) {
-		return
-	}
-	at := 0
-	for at < min(len(got), len(want)) && got[at] == want[at] {
-		at++
-	}
-	t.Fatalf("%s: got %d bytes, wanted %d: they differ from byte %d on", what, len(got), len(want), at)
 }
 
 // made is a new journal, and its model.
@@ -290,19 +260,6 @@ func fails(t *testing.T, j *journal.Journal, l []api.Input, want api.Errno) {
 	}
 }
 
-// trimmed is the command without the fields that its kind does not have.
-func trimmed(c api.Command) api.Command {
-	switch c.Kind {
-	case api.New:
-		c.Target = 0
-	case api.Cancel:
-		c = Cancel(c.Target)
-	case api.Replace:
-		c = Peaked(Replace(c.Target, c.ID, c.Price, c.Qty), c.Peak)
-	}
-	return c
-}
-
 // canBeSaid tells whether a trimmed command has a frame.
 func canBeSaid(c api.Command) bool {
 	return c.Kind >= 1 && c.Kind <= 3 && c.Side|c.Type >= 0 && c.Side|c.Type < 256 && c.Price >= 0 && c.Price <= math.MaxUint32
@@ -313,9 +270,9 @@ func wild(mix *Mixer, x api.Book, prices int) api.Input {
 	if mix.Below(8) == 0 {
 		return swap(1 + mix.Below(3))
 	}
-	c := trimmed(Wild(mix, x.High, prices))
+	c := Trimmed(Wild(mix, x.High, prices))
 	for !canBeSaid(c) || c.ID > x.High+9 {
-		c = trimmed(Likely(mix, x.High, prices))
+		c = Trimmed(Likely(mix, x.High, prices))
 	}
 	if l := slices.Concat(x.Buys, x.Sells); c.Target > 0 && len(l) > 0 && mix.Below(2) == 0 {
 		c.Target = Pick(mix, l...).ID

@@ -22,15 +22,15 @@ func none(t *testing.T, what string, want api.Errno) func(j *journal.Journal, wh
 }
 
 func TestP24_1New(t *testing.T) {
-	for c, can := range configs() {
-		for _, kind := range kinds() {
+	for c, can := range Configs() {
+		for _, kind := range Kinds() {
 			if can {
 				made(t, c, kind)
 				continue
 			}
 			none(t, "New of a config that can't be", api.ErrArg)(journal.New(c, kind))
 		}
-		for _, kind := range noKinds() {
+		for _, kind := range NoKinds() {
 			none(t, "New in no engine", api.ErrEngine)(journal.New(c, kind))
 		}
 	}
@@ -39,11 +39,11 @@ func TestP24_1New(t *testing.T) {
 func TestP24_1HeadByByte(t *testing.T) {
 	j, _ := made(t, api.Config{Capacity: 0x0304, Meet: 2}, api.List)
 	want := append([]byte{0x42, 0x46, 96, 0, 1, 0, 0, 0, 0, 0, 0, 0, 4, 3, 0, 0, 0, 0, 0, 0, 2, 0, 0, 0, 0, 0, 0, 0, 3}, make([]byte, 31)...)
-	sameBytes(t, "a head but for its sum", j.Bytes()[:60], want)
+	SameBytes(t, "a head but for its sum", j.Bytes()[:60], want)
 }
 
 func TestP24_2Batches(t *testing.T) {
-	for _, kind := range kinds() {
+	for _, kind := range Kinds() {
 		j, m := made(t, small(), kind)
 		does(t, j, m, to(Sell(1, 10, 5)))
 		Same(t, "how many bytes", len(j.Bytes()), 192)
@@ -52,16 +52,16 @@ func TestP24_2Batches(t *testing.T) {
 		tells(t, j, l, Numbered(1, Acked(Sell(2, 10, 5)), Acked(Buy(3, 11, 7)), Traded(3, 1, api.Buy, 10, 5), Traded(3, 2, api.Buy, 10, 2), Rejected(Cancel(9), api.ErrTarget)))
 		m.do(t, l)
 		isModel(t, j, m)
-		sameBytes(t, "the last seal", j.Bytes()[192+5*64:], laid(98, 5, 6, uint64(sum(saidAll(l))), 6))
+		SameBytes(t, "the last seal", j.Bytes()[192+5*64:], laid(98, 5, 6, uint64(sum(saidAll(l))), 6))
 		// A batch of which nothing is told has the Seq of the last event.
 		does(t, j, m, swap(api.List), swap(api.List))
-		sameBytes(t, "a seal behind swaps", j.Bytes()[192+8*64:], laid(98, 2, 8, uint64(sum(slices.Concat(said(swap(3)), said(swap(3))))), 6))
+		SameBytes(t, "a seal behind swaps", j.Bytes()[192+8*64:], laid(98, 2, 8, uint64(sum(slices.Concat(said(swap(3)), said(swap(3))))), 6))
 		Same(t, "Engine", j.Engine(), api.List)
 	}
 }
 
 func TestP24_2OfNone(t *testing.T) {
-	for _, kind := range kinds() {
+	for _, kind := range Kinds() {
 		j, m := made(t, small(), kind)
 		for _, l := range [][]api.Input{nil, {}, make([]api.Input, 0, 300)} {
 			tells(t, j, l, nil)
@@ -98,7 +98,7 @@ func unsayable() map[api.Errno][]api.Input {
 }
 
 func TestP24_2WhatCantBeLaidDown(t *testing.T) {
-	for _, kind := range kinds() {
+	for _, kind := range Kinds() {
 		j, m := made(t, small(), kind)
 		does(t, j, m, to(Sell(1, 10, 5)))
 		bad := unsayable()
@@ -120,7 +120,7 @@ func TestP24_2WhatCantBeLaidDown(t *testing.T) {
 }
 
 func TestP24_2TooMany(t *testing.T) {
-	for _, kind := range kinds() {
+	for _, kind := range Kinds() {
 		j, m := made(t, small(), kind)
 		l := slices.Repeat([]api.Input{to(Cancel(9))}, 257)
 		fails(t, j, l, api.ErrLong)
@@ -185,7 +185,7 @@ func TestP24_2P24_3P24_5NoRoom(t *testing.T) {
 		before := j.Bytes()
 		Same(t, "how many frames there is room for", 1<<16-len(before)/64, left)
 		fails(t, j, l[:max(left, 1)], api.ErrRoom)
-		sameBytes(t, "Bytes", j.Bytes(), before)
+		SameBytes(t, "Bytes", j.Bytes(), before)
 		if left > 1 {
 			_, why = j.Do(l[:left-1])
 			Same(t, "what is wrong with a batch that just fits", why, api.OK)
@@ -200,7 +200,7 @@ func TestP24_2P24_3P24_5NoRoom(t *testing.T) {
 }
 
 func TestP24_2P24_4MemoryIsItsOwn(t *testing.T) {
-	for _, kind := range kinds() {
+	for _, kind := range Kinds() {
 		j, m := made(t, small(), kind)
 		room := append(inputs(Sell(1, 10, 5), Sell(2, 11, 5), Buy(3, 10, 7), Buy(4, 9, 1)), make([]api.Input, 5)...)
 		before := slices.Clone(room)
@@ -221,7 +221,7 @@ func TestP24_2P24_4MemoryIsItsOwn(t *testing.T) {
 		// No answer changes with what is done behind it.
 		b, l := j.Bytes(), j.Inputs()
 		does(t, j, m, inputs(Cancel(2))...)
-		sameBytes(t, "an earlier answer of Bytes", b, m.b[:m.states[1].size])
+		SameBytes(t, "an earlier answer of Bytes", b, m.b[:m.states[1].size])
 		SameList(t, "an earlier answer of Inputs", l, m.states[1].inputs)
 		Spoil(b, 0xee)
 		isModel(t, j, m)
@@ -245,7 +245,7 @@ func TestP24_4Asked(t *testing.T) {
 }
 
 func TestP24_5Examples(t *testing.T) {
-	for _, kind := range kinds() {
+	for _, kind := range Kinds() {
 		j, m := made(t, small(), kind)
 		Same(t, "Compact", j.Compact(), api.OK)
 		Same(t, "how many bytes", len(j.Bytes()), 192)
@@ -276,13 +276,13 @@ func TestP24_5PictureByByte(t *testing.T) {
 	x := api.Book{Config: small(), High: 1, Seq: 2, Sells: []api.Resting{{ID: 1, Type: api.Limit, Price: 10, Visible: 5}}}
 	b := encoded(t, x)
 	want := slices.Concat(laid(96, 1, 4, 0, 2, 1), laid(97, 64, 2, uint64(sum(b))), b)
-	sameBytes(t, "Bytes", j.Bytes(), want)
+	SameBytes(t, "Bytes", j.Bytes(), want)
 	tells(t, j, inputs(Cancel(1)), Numbered(2, Ended(1, 5, api.ByOwner)))
 	x.Seq, x.Sells = 3, nil
 	Same(t, "Compact", j.Compact(), api.OK)
 	b = encoded(t, x)
 	want = slices.Concat(laid(96, 1, 4, 0, 2, 1), laid(97, 35, 3, uint64(sum(b))), b, make([]byte, 29))
-	sameBytes(t, "Bytes", j.Bytes(), want)
+	SameBytes(t, "Bytes", j.Bytes(), want)
 }
 
 func TestP24_5EveryLength(t *testing.T) {
@@ -301,7 +301,7 @@ func TestP24_5EveryLength(t *testing.T) {
 }
 
 func TestP24_5TheGreatest(t *testing.T) {
-	for _, kind := range kinds() {
+	for _, kind := range Kinds() {
 		x := api.Book{Config: api.Config{Capacity: 4096, Meet: 3}, High: math.MaxUint64, Seq: math.MaxUint64}
 		for i := range 4096 {
 			x.Buys = append(x.Buys, api.Resting{ID: math.MaxUint64 - uint64(i), Member: math.MaxUint32, Type: api.PostOnly, Price: api.Ticks - 1, Visible: math.MaxUint32})

@@ -19,7 +19,7 @@ func resting() api.Book {
 }
 
 func TestP24_3Examples(t *testing.T) {
-	for _, kind := range kinds() {
+	for _, kind := range Kinds() {
 		j, m := made(t, small(), kind)
 		does(t, j, m, to(Sell(1, 10, 5)))
 		b := j.Bytes()
@@ -94,8 +94,8 @@ func TestP24_3WordsOfAHead(t *testing.T) {
 	for _, follows := range []uint64{2, 3, 256, 1<<32 + 1, 1 << 63, math.MaxUint64} {
 		refused(1, 4, 0, 2, follows)
 	}
-	for c, can := range configs() {
-		for _, kind := range kinds() {
+	for c, can := range Configs() {
+		for _, kind := range Kinds() {
 			if can {
 				found(t, header(c, kind, 0), empty(c, kind).now())
 			} else {
@@ -106,7 +106,7 @@ func TestP24_3WordsOfAHead(t *testing.T) {
 }
 
 func TestP24_3Picture(t *testing.T) {
-	for _, kind := range kinds() {
+	for _, kind := range Kinds() {
 		for _, x := range []api.Book{{Config: small()}, {Config: small(), High: math.MaxUint64, Seq: 1 << 50}, resting(), Fair()} {
 			for _, count := range []uint64{0, 1, 1 << 40, math.MaxUint64} {
 				m := shown(t, x, kind, count)
@@ -132,13 +132,13 @@ func posing(t *testing.T) api.Book {
 		{ID: 1 << 24, Type: api.Limit, Price: 10, Visible: 5},
 		{ID: uint64(last) << 48, Member: last >> 16, Type: api.Limit, Price: 10, Visible: 5},
 	}}
-	sameBytes(t, "what stands in the picture", pictured(t, x, 0)[128:192], frame)
+	SameBytes(t, "what stands in the picture", pictured(t, x, 0)[128:192], frame)
 	return x
 }
 
 func TestP24_3P24_4InputsOfAPicture(t *testing.T) {
 	// What stands in a picture is no input of the journal's batches, whatever it looks like.
-	for _, kind := range kinds() {
+	for _, kind := range Kinds() {
 		m := shown(t, posing(t), kind, 5)
 		j := replayed(t, m)
 		Same(t, "Compact", j.Compact(), api.OK)
@@ -309,7 +309,7 @@ func turned(b []byte, at int) []byte {
 }
 
 func TestP24_3NoBatch(t *testing.T) {
-	for _, kind := range kinds() {
+	for _, kind := range Kinds() {
 		for _, m := range []*model{empty(small(), kind), shown(t, resting(), kind, 40)} {
 			for range 3 {
 				s := m.now()
@@ -335,7 +335,7 @@ func TestP24_3NoBatch(t *testing.T) {
 
 func TestP24_3WhatIsNotDone(t *testing.T) {
 	// Of a batch whose seal has another Seq all is done ahead of that being known: nothing of it may stay.
-	for _, kind := range kinds() {
+	for _, kind := range Kinds() {
 		_, m := made(t, api.Config{Capacity: 9, Meet: api.MeetOldest}, kind)
 		m.do(t, inputs(Peaked(Sell(1, 10, 9), 2), By(Sell(2, 10, 9), 7), Buy(3, 9, 4)))
 		m.do(t, inputs(Replace(2, 4, 11, 3)))
@@ -354,15 +354,15 @@ func TestP24_3WhatIsNotDone(t *testing.T) {
 }
 
 func TestP24_3MemoryIsItsOwn(t *testing.T) {
-	for _, kind := range kinds() {
+	for _, kind := range Kinds() {
 		for _, m := range []*model{empty(small(), kind), shown(t, Fair(), kind, 7)} {
 			m.do(t, inputs(Sell(11, 13, 5), Buy(12, 11, 1)))
 			room := append(bytes.Clone(m.b), "spare room"...)
 			before := bytes.Clone(room)
 			j := found(t, room[:len(m.b)], m.now())
-			sameBytes(t, "what was handed in, and its spare room", room, before)
+			SameBytes(t, "what was handed in, and its spare room", room, before)
 			does(t, j, m, inputs(Cancel(11))...)
-			sameBytes(t, "what was handed in, and its spare room", room, before)
+			SameBytes(t, "what was handed in, and its spare room", room, before)
 			k := found(t, room[:len(before)-10], m.behind(len(before)-10))
 			Spoil(room, 0xee)
 			isModel(t, j, m)

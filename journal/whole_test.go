@@ -76,7 +76,7 @@ func TestP24_7GoesOn(t *testing.T) {
 
 func TestP24_7Apart(t *testing.T) {
 	// What one of them does the other one does not know of.
-	for _, kind := range kinds() {
+	for _, kind := range Kinds() {
 		j, m := made(t, small(), kind)
 		does(t, j, m, inputs(Sell(1, 10, 5), Buy(2, 9, 5))...)
 		k := replayed(t, m)
@@ -165,7 +165,7 @@ func TestP24_9TheBookIsTheInputs(t *testing.T) {
 		}
 		isModel(t, j, m)
 		// Done one by one in any engine, swaps left out: the same book, and in the end the same is told.
-		for _, kind := range kinds() {
+		for _, kind := range Kinds() {
 			e, why := snapshot.Open(kind, first)
 			Same(t, "Open", why, api.OK)
 			var all []api.Event
@@ -187,7 +187,7 @@ func TestP24_9EnginesAreAlike(t *testing.T) {
 		c := api.Config{Capacity: 12, Meet: meet}
 		j, m := made(t, c, api.List)
 		var others []*journal.Journal
-		for _, kind := range kinds() {
+		for _, kind := range Kinds() {
 			k, _ := made(t, c, kind)
 			others = append(others, k)
 		}
@@ -197,7 +197,7 @@ func TestP24_9EnginesAreAlike(t *testing.T) {
 			tells(t, j, l, want)
 			for _, k := range others {
 				tells(t, k, l, want)
-				sameBytes(t, "the batches", k.Bytes()[64:], j.Bytes()[64:])
+				SameBytes(t, "the batches", k.Bytes()[64:], j.Bytes()[64:])
 				Same(t, "whether it is the same book", SameBook(k.Book(), m.now().book), true)
 			}
 		}

@@ -41,6 +41,19 @@ func By(c api.Command, member uint32) api.Command {
 	return c
 }
 
+// Trimmed is the command without the fields that its kind does not have.
+func Trimmed(c api.Command) api.Command {
+	switch c.Kind {
+	case api.New:
+		c.Target = 0
+	case api.Cancel:
+		c = Cancel(c.Target)
+	case api.Replace:
+		c = Peaked(Replace(c.Target, c.ID, c.Price, c.Qty), c.Peak)
+	}
+	return c
+}
+
 // Likely is a command that a book of such a High may well take; its price is below prices.
 func Likely(x *Mixer, high uint64, prices int) api.Command {
 	c := api.Command{Kind: Pick(x, 1, 1, 1, 1, 1, 2, 3), ID: high + uint64(x.Below(3)), Target: uint64(x.Below(int(min(high, 1000)) + 2)), Member: uint32(x.Below(4)), Price: x.Below(prices), Qty: uint64(1 + x.Below(12))}

@@ -7,6 +7,23 @@ import (
 	"bourse/api"
 )
 
+// Kinds is those of engines that there are.
+func Kinds() []int { return []int{api.Tree, api.Ladder, api.List} }
+
+// NoKinds is some that there are not.
+func NoKinds() []int { return []int{math.MinInt, -1, 0, 4, 9, 255, 256, 257, math.MaxInt} }
+
+// Configs is some, and whether they can be.
+func Configs() map[api.Config]bool {
+	l := map[api.Config]bool{}
+	for _, capacity := range []int{math.MinInt, -1, 0, 1, 4, 4096, 4097, math.MaxInt} {
+		for _, meet := range []int{math.MinInt, -1, 0, 1, 2, 3, 4, math.MaxInt} {
+			l[api.Config{Capacity: capacity, Meet: meet}] = capacity >= 1 && capacity <= 4096 && meet >= 0 && meet <= 3
+		}
+	}
+	return l
+}
+
 // Fair is a book with which nothing is wrong.
 func Fair() api.Book {
 	return api.Book{

@@ -1,6 +1,7 @@
 package sample
 
 import (
+	"bytes"
 	"slices"
 
 	"bourse/api"
@@ -26,6 +27,19 @@ func SameList[T comparable](t Test, what string, got, want []T) {
 	if !slices.Equal(got, want) {
 		t.Fatalf("%s: got %+v, wanted %+v", what, got, want)
 	}
+}
+
+// SameBytes ends a test where bytes are not the same.
+func SameBytes(t Test, what string, got, want []byte) {
+	t.Helper()
+	if bytes.Equal(got, want) {
+		return
+	}
+	at := 0
+	for at < min(len(got), len(want)) && got[at] == want[at] {
+		at++
+	}
+	t.Fatalf("%s: got %d bytes, wanted %d: they differ from byte %d on", what, len(got), len(want), at)
 }
 
 // Keeps ends a test where an engine does not keep just that book.

@@ -13,12 +13,6 @@ import (
 	"bourse/treebook"
 )
 
-// kinds is those of engines that there are.
-func kinds() []int { return []int{api.Tree, api.Ladder, api.List} }
-
-// noKinds is some that there are not.
-func noKinds() []int { return []int{math.MinInt, -1, 0, 4, 9, 257, math.MaxInt} }
-
 // isOf ends a test where an engine is of another kind.
 func isOf(t *testing.T, e api.Engine, kind int) {
 	t.Helper()
@@ -73,7 +67,7 @@ func none(t *testing.T, what string, want api.Errno) func(e api.Engine, why api.
 
 func TestP12_3Make(t *testing.T) {
 	fits := api.Config{Capacity: 3, Meet: 2}
-	for _, kind := range kinds() {
+	for _, kind := range Kinds() {
 		Keeps(t, made(t, kind, fits), api.Book{Config: fits})
 		for _, capacity := range []int{math.MinInt, -1, 0, 1, 4096, 4097, math.MaxInt} {
 			for _, meet := range []int{math.MinInt, -1, 0, 3, 4, math.MaxInt} {
@@ -86,14 +80,14 @@ func TestP12_3Make(t *testing.T) {
 			}
 		}
 	}
-	for _, kind := range noKinds() {
+	for _, kind := range NoKinds() {
 		none(t, "Make of no kind", api.ErrEngine)(snapshot.Make(kind, fits))
 		none(t, "Make of no kind and what can't be", api.ErrEngine)(snapshot.Make(kind, api.Config{}))
 	}
 }
 
 func TestP12_3Open(t *testing.T) {
-	for _, kind := range kinds() {
+	for _, kind := range Kinds() {
 		for _, x := range []api.Book{{Config: api.Config{Capacity: 1}}, single(), Fair(), greatest(), full(2000)} {
 			opened(t, kind, x)
 		}
@@ -103,22 +97,22 @@ func TestP12_3Open(t *testing.T) {
 		two := api.Resting{ID: 1, Type: api.Limit, Price: 3, Visible: 2}
 		none(t, "Open of one ID twice", api.ErrBook)(snapshot.Open(kind, api.Book{Config: api.Config{Capacity: 4}, High: 1, Buys: []api.Resting{two, two}}))
 	}
-	for _, kind := range noKinds() {
+	for _, kind := range NoKinds() {
 		none(t, "Open of no kind", api.ErrEngine)(snapshot.Open(kind, Fair()))
 		none(t, "Open of no kind and what can't be", api.ErrEngine)(snapshot.Open(kind, api.Book{}))
 	}
 }
 
 func TestP12_3Swap(t *testing.T) {
-	for _, kind := range append(kinds(), noKinds()...) {
+	for _, kind := range append(Kinds(), NoKinds()...) {
 		none(t, "Swap of nothing", api.ErrArg)(snapshot.Swap(nil, kind))
 	}
-	for _, from := range kinds() {
+	for _, from := range Kinds() {
 		e := opened(t, from, Fair())
-		for _, to := range kinds() {
+		for _, to := range Kinds() {
 			Keeps(t, swapped(t, e, to), Fair())
 		}
-		for _, to := range noKinds() {
+		for _, to := range NoKinds() {
 			none(t, "Swap to no kind", api.ErrEngine)(snapshot.Swap(e, to))
 		}
 		Keeps(t, e, Fair())
@@ -134,7 +128,7 @@ type strange struct {
 func (s strange) Book() api.Book { return s.book }
 
 func TestP12_3SwapOfAnotherEngine(t *testing.T) {
-	for _, kind := range kinds() {
+	for _, kind := range Kinds() {
 		for _, x := range Spoilt() {
 			none(t, "Swap of what can't be", api.ErrBook)(snapshot.Swap(strange{book: x}, kind))
 		}
@@ -150,7 +144,7 @@ func TestP12_3SwapOfAnotherEngine(t *testing.T) {
 }
 
 func TestP12_3P12_7NothingIsShared(t *testing.T) {
-	for _, kind := range kinds() {
+	for _, kind := range Kinds() {
 		x := Fair()
 		x.Buys = append(make([]api.Resting, 0, 9), x.Buys...)
 		e := opened(t, kind, x)
@@ -290,8 +284,8 @@ func TestP12_4Same(t *testing.T) {
 }
 
 func TestP12_6Pairs(t *testing.T) {
-	for _, from := range kinds() {
-		for _, to := range kinds() {
+	for _, from := range Kinds() {
+		for _, to := range Kinds() {
 			for meet := range 4 {
 				mix := Mixer(1000*from + 100*to + meet)
 				for range 20 {
@@ -316,7 +310,7 @@ func TestP12_6Pairs(t *testing.T) {
 }
 
 func TestP12_6AgainAndAgain(t *testing.T) {
-	for _, first := range kinds() {
+	for _, first := range Kinds() {
 		for meet := range 4 {
 			mix := Mixer(10*first + meet)
 			c := api.Config{Capacity: 12, Meet: meet}
@@ -324,7 +318,7 @@ func TestP12_6AgainAndAgain(t *testing.T) {
 			e, twin := made(t, first, c), made(t, api.List, c)
 			for range 2000 {
 				for range mix.Below(3) {
-					e = swapped(t, e, Pick(&mix, kinds()...))
+					e = swapped(t, e, Pick(&mix, Kinds()...))
 				}
 				c := Likely(&mix, twin.Book().High, 1+mix.Below(8))
 				SameList(t, "Do", e.Do(c), twin.Do(c))
@@ -336,9 +330,9 @@ func TestP12_6AgainAndAgain(t *testing.T) {
 
 func TestP12_6AtTheEnds(t *testing.T) {
 	for _, x := range []api.Book{greatest(), full(0), full(4096), full(1000)} {
-		for _, from := range kinds() {
+		for _, from := range Kinds() {
 			e := opened(t, from, x)
-			for _, to := range kinds() {
+			for _, to := range Kinds() {
 				other := swapped(t, e, to)
 				Tells(t, other, Cancel(0), Rejected(Cancel(0), api.ErrTarget))
 			}
@@ -353,7 +347,7 @@ func TestP12_6ByWayOfBytes(t *testing.T) {
 	for range 1000 {
 		x, _, why := snapshot.Decode(encoded(t, e.Book()))
 		Same(t, "Decode", why, api.OK)
-		e = opened(t, Pick(&mix, kinds()...), x)
+		e = opened(t, Pick(&mix, Kinds()...), x)
 		c := Likely(&mix, twin.Book().High, 5)
 		SameList(t, "Do", e.Do(c), twin.Do(c))
 		Alike(t, e, twin)
@@ -361,8 +355,8 @@ func TestP12_6ByWayOfBytes(t *testing.T) {
 }
 
 func TestP12_7Apart(t *testing.T) {
-	for _, from := range kinds() {
-		for _, to := range kinds() {
+	for _, from := range Kinds() {
+		for _, to := range Kinds() {
 			for meet := range 4 {
 				mix := Mixer(2000*from + 200*to + meet)
 				e := made(t, from, api.Config{Capacity: 15, Meet: meet})

@@ -146,9 +146,6 @@ func (m *model) state() api.Stops {
 	return s
 }
 
-// kinds is those of engines that there are.
-func kinds() []int { return []int{api.Tree, api.Ladder, api.List} }
-
 // each runs a test over every engine.
 func each(t *testing.T, test func(t *testing.T, kind int)) {
 	t.Run("tree", func(t *testing.T) { test(t, api.Tree) })

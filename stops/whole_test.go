@@ -20,7 +20,7 @@ type trio struct {
 func trioOf(t *testing.T, c api.Config, most int) trio {
 	t.Helper()
 	w := trio{model: modelOf(api.Stops{Most: most}, api.Book{Config: c})}
-	for _, kind := range kinds() {
+	for _, kind := range Kinds() {
 		w.books = append(w.books, over(t, engineOf(t, kind, c), most))
 	}
 	return w
@@ -183,7 +183,7 @@ func TestP13_9StateAndBookAreEnough(t *testing.T) {
 		for range mix.Below(3) {
 			from := Pick(mix, w.books...)
 			at := mix.Below(len(w.books))
-			w.books[at] = restored(t, Pick(mix, kinds()...), from.State(), from.Book())
+			w.books[at] = restored(t, Pick(mix, Kinds()...), from.State(), from.Book())
 			moved++
 		}
 		if mix.Below(8) == 0 {
@@ -206,7 +206,7 @@ func TestP13_9FromWhateverBook(t *testing.T) {
 			x.High = high
 		}
 		w := trio{model: modelOf(s, x)}
-		for _, kind := range kinds() {
+		for _, kind := range Kinds() {
 			w.books = append(w.books, restored(t, kind, s, x))
 		}
 		for step := range 60 {

@@ -17,9 +17,6 @@ import (
 
 // The tests lay out frames by encoding/binary and hash/crc32, also those that no message is, and hold what is told against a model that makes a list book anew for each command.
 
-// kinds is those of engines that there are.
-func kinds() []int { return []int{api.Tree, api.Ladder, api.List} }
-
 // each runs a test in every engine.
 func each(t *testing.T, test func(t *testing.T, kind int)) {
 	t.Run("tree", func(t *testing.T) { test(t, api.Tree) })
@@ -182,24 +179,6 @@ func closes(t *testing.T, v *venue.Venue, want ...api.Event) {
 	seq := v.Book().Seq
 	tells(t, v.Close(), seq, want...)
 	Same(t, "Seq", v.Book().Seq, seq+uint64(len(want)))
-}
-
-// sameBytes ends a test where bytes are not the same.
-func sameBytes(t *testing.T, what string, got, want []byte) {
-	t.Helper()
-	if !bytes.Equal(got, want) {
-		t.Fatalf("%s: got %d bytes, wanted %d: they differ from byte %d on", what, len(got), len(want), differ(got, want))
-	}
-}
-
-// differ is the first place at which bytes do.
-func differ(a, b []byte) int {
-	for i := range min(len(a), len(b)) {
-		if a[i] != b[i] {
-			return i
-		}
-	}
-	return min(len(a), len(b))
 }
 
 // model is what a venue must be: a book that is kept as a value, and in which engine it is said to be.

@@ -13,9 +13,6 @@ import (
 	"bourse/venue"
 )
 
-// noKinds is some engines that there are not.
-func noKinds() []int { return []int{math.MinInt, -1, 0, 4, 9, 257, math.MaxInt} }
-
 // small is the config of the chapter's examples.
 func small() api.Config { return api.Config{Capacity: 4} }
 
@@ -29,20 +26,9 @@ func none(t *testing.T, what string, want api.Errno) func(v *venue.Venue, why ap
 	}
 }
 
-// configs is some, and whether they can be.
-func configs() map[api.Config]bool {
-	l := map[api.Config]bool{}
-	for _, capacity := range []int{math.MinInt, -1, 0, 1, 4, 4096, 4097, math.MaxInt} {
-		for _, meet := range []int{math.MinInt, -1, 0, 1, 2, 3, 4, math.MaxInt} {
-			l[api.Config{Capacity: capacity, Meet: meet}] = capacity >= 1 && capacity <= 4096 && meet >= 0 && meet <= 3
-		}
-	}
-	return l
-}
-
 func TestP17_1New(t *testing.T) {
-	for c, can := range configs() {
-		for _, kind := range kinds() {
+	for c, can := range Configs() {
+		for _, kind := range Kinds() {
 			if can {
 				v := made(t, c, kind)
 				keeps(t, v, api.Book{Config: c}, kind)
@@ -51,27 +37,27 @@ func TestP17_1New(t *testing.T) {
 			}
 			none(t, "New of a config that can't be", api.ErrArg)(venue.New(c, kind))
 		}
-		for _, kind := range noKinds() {
+		for _, kind := range NoKinds() {
 			none(t, "New in no engine", api.ErrEngine)(venue.New(c, kind))
 		}
 	}
 }
 
 func TestP17_1Open(t *testing.T) {
-	for _, kind := range kinds() {
+	for _, kind := range Kinds() {
 		v := opened(t, Fair(), kind)
 		feeds(t, v, said(Cancel(3)), Ended(3, 5, api.ByOwner))
 		opened(t, api.Book{Config: small(), High: 7, Seq: 1 << 40}, kind)
 		for _, x := range append(Spoilt(), api.Book{}) {
 			none(t, "Open of a book that can't be", api.ErrBook)(venue.Open(x, kind))
 		}
-		for c, can := range configs() {
+		for c, can := range Configs() {
 			if !can {
 				none(t, "Open of a config that can't be", api.ErrBook)(venue.Open(api.Book{Config: c}, kind))
 			}
 		}
 	}
-	for _, kind := range noKinds() {
+	for _, kind := range NoKinds() {
 		none(t, "Open in no engine", api.ErrEngine)(venue.Open(Fair(), kind))
 		none(t, "Open of no book in no engine", api.ErrEngine)(venue.Open(api.Book{}, kind))
 	}
@@ -131,7 +117,7 @@ func TestP17_2Bytes(t *testing.T) {
 	v := made(t, small(), api.Tree)
 	v.Feed(said(Sell(1, 10, 5)))
 	want := slices.Concat([]byte{0x42, 0x46, 66, 0, 2, 0, 0, 0, 0, 0, 0, 0, 1, 0, 0, 0, 0, 0, 0, 0}, make([]byte, 16), []byte{0, 0, 0, 0, 97, 0, 0, 0}, make([]byte, 16))
-	sameBytes(t, "what is told", v.Feed(said(Sell(1, 10, 5))), summed(want))
+	SameBytes(t, "what is told", v.Feed(said(Sell(1, 10, 5))), summed(want))
 }
 
 func TestP17_2EveryEvent(t *testing.T) {
@@ -231,7 +217,7 @@ func TestP17_2MemoryIsItsOwn(t *testing.T) {
 		piece := room[:100]
 		told := v.Feed(piece)
 		tells(t, told, 0, Acked(Sell(1, 10, 5)))
-		sameBytes(t, "what was handed in", room, append(bytes.Clone(all[:100]), "spare room"...))
+		SameBytes(t, "what was handed in", room, append(bytes.Clone(all[:100]), "spare room"...))
 		// What waits is no part of what was handed in, nor of what was answered.
 		Spoil(room, 0xee)
 		Spoil(told, 0xee)
@@ -339,13 +325,13 @@ func TestP17_5Run(t *testing.T) {
 		Same(t, "Run of no whole frame", why, api.OK)
 		tells(t, got, 0, refused(api.ErrShort))
 	})
-	for c, can := range configs() {
-		for _, kind := range append(noKinds(), kinds()...) {
+	for c, can := range Configs() {
+		for _, kind := range append(NoKinds(), Kinds()...) {
 			v, want := venue.New(c, kind)
 			got, why := venue.Run(c, kind, b)
 			Same(t, "Run", why, want)
 			Same(t, "whether Run tells anything", len(got) > 0, v != nil)
-			Same(t, "whether Run answers OK", why == api.OK, can && slices.Contains(kinds(), kind))
+			Same(t, "whether Run answers OK", why == api.OK, can && slices.Contains(Kinds(), kind))
 		}
 	}
 }
@@ -354,7 +340,7 @@ func TestP17_5RunChangesNothing(t *testing.T) {
 	b := append(said(Sell(1, 10, 5)), 7, 8)
 	room := append(bytes.Clone(b), "spare room"...)
 	got, _ := venue.Run(small(), api.Tree, room[:66])
-	sameBytes(t, "what was handed in", room, append(bytes.Clone(b), "spare room"...))
+	SameBytes(t, "what was handed in", room, append(bytes.Clone(b), "spare room"...))
 	Spoil(room, 0xee)
 	tells(t, got, 0, Acked(Sell(1, 10, 5)), refused(api.ErrShort))
 }
@@ -434,7 +420,7 @@ func TestP17_6LinesOfWhatIsTold(t *testing.T) {
 		before := bytes.Clone(b)
 		lines, why := venue.Lines(b)
 		Same(t, "Lines", why, api.OK)
-		sameBytes(t, "what was handed in", b, before)
+		SameBytes(t, "what was handed in", b, before)
 		Same(t, "how many lines there are", strings.Count(string(lines), "8=BRS.1\x01"), len(b)/64)
 		sameEvents(t, lines, events(t, b))
 	})

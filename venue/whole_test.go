@@ -37,7 +37,7 @@ func withNames(mix *Mixer, frames [][]byte) [][]byte {
 
 // namesOne tells whether a frame names an engine that there is.
 func namesOne(b []byte) bool {
-	return slices.ContainsFunc(kinds(), func(kind int) bool { return bytes.Equal(b, named(uint64(kind))) })
+	return slices.ContainsFunc(Kinds(), func(kind int) bool { return bytes.Equal(b, named(uint64(kind))) })
 }
 
 // ran feeds frames to a new venue: it, and all that it tells.
@@ -54,7 +54,7 @@ func TestP17_7ListBook(t *testing.T) {
 			v, m := made(t, c, kind), &model{book: api.Book{Config: c}, engine: kind}
 			for _, b := range frames {
 				want := m.read(t, b)
-				sameBytes(t, "what is told", v.Feed(b), framedAll(want...))
+				SameBytes(t, "what is told", v.Feed(b), framedAll(want...))
 				keeps(t, v, m.book, m.engine)
 				for _, e := range want {
 					told[e.Kind]++
@@ -78,11 +78,11 @@ func TestP17_7WhateverBytes(t *testing.T) {
 			for range mix.Below(5) {
 				b = slices.Insert(b, mix.Below(len(b)), byte(mix.Next()))
 			}
-			for _, kind := range kinds() {
+			for _, kind := range Kinds() {
 				m := &model{book: api.Book{Config: c}}
 				got, why := venue.Run(c, kind, b)
 				Same(t, "Run", why, api.OK)
-				sameBytes(t, "what is told", got, m.all(t, b))
+				SameBytes(t, "what is told", got, m.all(t, b))
 			}
 		}
 	})
@@ -100,11 +100,11 @@ func TestP17_7AtTheEnds(t *testing.T) {
 	}
 	each(t, func(t *testing.T, kind int) {
 		v, m := opened(t, full, kind), &model{book: full, engine: kind}
-		sameBytes(t, "what is told", v.Feed(b), m.all(t, b))
+		SameBytes(t, "what is told", v.Feed(b), m.all(t, b))
 		keeps(t, v, m.book, m.engine)
 		// All that is there at once: thousands of events of one frame.
 		all := said(Order(9000, api.Buy, api.Market, 0, 1<<20))
-		sameBytes(t, "what is told", v.Feed(all), m.all(t, all))
+		SameBytes(t, "what is told", v.Feed(all), m.all(t, all))
 		keeps(t, v, m.book, m.engine)
 	})
 }
@@ -112,18 +112,18 @@ func TestP17_7AtTheEnds(t *testing.T) {
 func TestP17_8SwapsCantBeSeen(t *testing.T) {
 	shapes(t, 800, 300, false, func(t *testing.T, mix *Mixer, c api.Config, frames [][]byte) {
 		v, want := ran(t, c, api.List, frames)
-		for _, kind := range kinds() {
+		for _, kind := range Kinds() {
 			w, got := ran(t, c, kind, frames)
-			sameBytes(t, "what is told without a swap", got, want)
+			SameBytes(t, "what is told without a swap", got, want)
 			keeps(t, w, v.Book(), kind)
 			more := withNames(mix, frames)
 			w, got = ran(t, c, kind, more)
-			sameBytes(t, "what is told with swaps", got, want)
+			SameBytes(t, "what is told with swaps", got, want)
 			keeps(t, w, v.Book(), int(more[len(more)-1][4]))
 			// Some of them are taken out again.
 			less := slices.DeleteFunc(more, func(b []byte) bool { return namesOne(b) && mix.Below(2) == 0 })
 			w, got = ran(t, c, kind, less)
-			sameBytes(t, "what is told with fewer of them", got, want)
+			SameBytes(t, "what is told with fewer of them", got, want)
 			keeps(t, w, v.Book(), w.Engine())
 		}
 	})
@@ -133,11 +133,11 @@ func TestP17_8SwapsBetweenAnyTwo(t *testing.T) {
 	frames := [][]byte{said(Peaked(Sell(1, 9, 10), 4)), said(By(Sell(2, 9, 3), 5)), said(Buy(3, 9, 5)), make([]byte, 64), said(Replace(1, 4, 10, 6)), said(By(Buy(5, 11, 8), 5)), said(Cancel(5)), said(Buy(5, 1, 1))}
 	c := api.Config{Capacity: 3, Meet: api.MeetOldest}
 	v, want := ran(t, c, api.List, frames)
-	for _, from := range kinds() {
-		for _, to := range kinds() {
+	for _, from := range Kinds() {
+		for _, to := range Kinds() {
 			for at := range len(frames) + 1 {
 				w, got := ran(t, c, from, slices.Insert(slices.Clone(frames), at, named(uint64(to))))
-				sameBytes(t, "what is told with a swap", got, want)
+				SameBytes(t, "what is told with a swap", got, want)
 				keeps(t, w, v.Book(), to)
 			}
 		}
@@ -162,7 +162,7 @@ func TestP17_9InPieces(t *testing.T) {
 		Same(t, "Run", why, api.OK)
 		known := spans(t, c, frames)
 		for _, most := range []int{1, 3, 63, 64, 65, 127, 200, 3000} {
-			v := made(t, c, Pick(mix, kinds()...))
+			v := made(t, c, Pick(mix, Kinds()...))
 			var got []byte
 			for came := 0; came < len(b); {
 				// A piece may be empty, too.
@@ -172,7 +172,7 @@ func TestP17_9InPieces(t *testing.T) {
 				// It is told as soon as a frame is whole, and not ahead of that.
 				Same(t, "how much is told by now", len(got), known[came/64])
 			}
-			sameBytes(t, "what is told of pieces", append(got, v.Close()...), want)
+			SameBytes(t, "what is told of pieces", append(got, v.Close()...), want)
 		}
 	})
 }
@@ -207,7 +207,7 @@ func unnumbered(t *testing.T, b []byte) []api.Event {
 func TestP17_10EachFrameByItself(t *testing.T) {
 	shapes(t, 1000, 80, true, func(t *testing.T, mix *Mixer, c api.Config, frames [][]byte) {
 		bad := spoilt()
-		kind := Pick(mix, kinds()...)
+		kind := Pick(mix, Kinds()...)
 		_, all := ran(t, c, kind, frames)
 		for range 10 {
 			at := mix.Below(len(frames) + 1)
@@ -225,7 +225,7 @@ func TestP17_10EachFrameByItself(t *testing.T) {
 			for range 4 {
 				w, _ := ran(t, c, kind, frames[:at])
 				w.Feed(Pick(mix, bad...))
-				sameBytes(t, "what is told behind another spoilt frame", w.Feed(rest), behind)
+				SameBytes(t, "what is told behind another spoilt frame", w.Feed(rest), behind)
 				keeps(t, w, v.Book(), v.Engine())
 			}
 		}
@@ -250,7 +250,7 @@ func TestP17_10SpoiltOnTheWay(t *testing.T) {
 
 func TestP17_11GoesOn(t *testing.T) {
 	shapes(t, 1100, 200, true, func(t *testing.T, mix *Mixer, c api.Config, frames [][]byte) {
-		v := made(t, c, Pick(mix, kinds()...))
+		v := made(t, c, Pick(mix, Kinds()...))
 		var told [][]byte
 		var books []api.Book
 		for _, b := range frames {
@@ -258,11 +258,11 @@ func TestP17_11GoesOn(t *testing.T) {
 			told = append(told, v.Feed(b))
 		}
 		for at := mix.Below(20); at < len(frames); at += 1 + mix.Below(40) {
-			for _, kind := range kinds() {
+			for _, kind := range Kinds() {
 				w := opened(t, books[at], kind)
 				for i, b := range frames[at:] {
 					Same(t, "whether it keeps the same", SameBook(w.Book(), books[at+i]), true)
-					sameBytes(t, "what another one tells", w.Feed(b), told[at+i])
+					SameBytes(t, "what another one tells", w.Feed(b), told[at+i])
 				}
 				Same(t, "whether it keeps the same at the end", SameBook(w.Book(), v.Book()), true)
 			}
@@ -276,7 +276,7 @@ func TestP17_11OfItsOwnFrames(t *testing.T) {
 		v := made(t, small(), kind)
 		feeds(t, v, said(Sell(1, 10, 5)), Acked(Sell(1, 10, 5)))
 		x := v.Book()
-		for _, other := range kinds() {
+		for _, other := range Kinds() {
 			w := opened(t, x, other)
 			b := said(Buy(2, 10, 7))
 			tells(t, w.Feed(b), 1, Acked(Buy(2, 10, 7)), Traded(2, 1, api.Buy, 10, 5))
